@@ -1,0 +1,1 @@
+"""Playsalike: pieces of programs held against one another in every program around them."""

@@ -1,0 +1,48 @@
+"""The moves of a piece: those that are heard, and those that are told."""
+
+from playsalike.letters import in_order
+from playsalike.pieces import check_piece
+
+
+def heard_moves(piece):
+    """The list, in order, of the moves that the surroundings of the piece can make."""
+    check_piece(piece)
+    moves = [("ask",)]
+    for word, sort in piece.names.items():
+        taken, given = sort
+        moves.extend(_answers(given, (word,), piece.size))
+        for at, plain in enumerate(taken):
+            moves.extend(_questions(plain, "ask", (word, at), piece.size))
+    return in_order(moves)
+
+
+def told_moves(piece):
+    """The list, in order, of the moves that the piece can make."""
+    check_piece(piece)
+    moves = [("break",)]
+    if piece.kind == "num":
+        moves.extend([("num", number) for number in range(piece.size)])
+    else:
+        moves.append(("do",))
+    for word, sort in piece.names.items():
+        taken, given = sort
+        moves.extend(_questions(given, "call", (word,), piece.size))
+        for at, plain in enumerate(taken):
+            moves.extend(_answers(plain, (word, at), piece.size))
+    return in_order(moves)
+
+
+def _questions(plain, asking, whose, size):
+    """The questions to what has this plain sort; asking is the word for numbers and deeds."""
+    if plain == "box":
+        return [("get",) + whose] + [("set",) + whose + (number,) for number in range(size)]
+    return [(asking,) + whose]
+
+
+def _answers(plain, whose, size):
+    """The answers of what has this plain sort."""
+    if plain == "num":
+        return [("num",) + whose + (number,) for number in range(size)]
+    if plain == "do":
+        return [("did",) + whose]
+    return [("value",) + whose + (number,) for number in range(size)] + [("kept",) + whose]

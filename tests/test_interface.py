@@ -1,0 +1,79 @@
+"""The interface: what stands in which file, with which arguments and attributes; nothing is changed."""
+
+import inspect
+import unittest
+from importlib import import_module
+from pathlib import Path
+
+import playsalike
+from playsalike.pieces import Function, Piece
+
+CALLS = {
+    "sorts": ["is_plain(thing)", "is_sort(thing)"],
+    "terms": ["is_term(size, names, thing)", "sort_of(size, names, term)"],
+    "pieces": ["free_names(piece)", "function_of(piece)", "put(piece, word, other)",
+               "put_in(piece, word, other)"],
+    "evaluating": ["evaluated(piece, steps)"],
+    "arounds": ["whole_of(piece, around)", "ended_around(piece, around, steps)"],
+    "books": ["open_names(book)", "uses(book, word)"],
+    "examples": ["examples()"],
+    "letters": ["is_letter(thing)", "in_order(letters)"],
+    "heardmoves": ["heard_moves(piece)", "told_moves(piece)"],
+    "links": ["open_piece(book, word)", "linked(book, word)"],
+    "machines": ["takes(machine, row)", "widened(machine, letters)"],
+    "joins": ["joined(machine, other)", "both(machine, other)", "without(machine, other)",
+              "contrary(machine)"],
+    "asking": ["first_row(machine)", "first_apart(machine, other)", "first_beyond(machine, other)",
+               "is_among(machine, other)", "rows_of(machine, most)", "count_rows(machine, length)",
+               "lengths(machine)"],
+    "chains": ["behind(machine, other)", "again(machine)", "backwards(machine)"],
+    "leaving": ["left_out(machine, letters)", "let_in(machine, letters)", "kept_by(machine, other)",
+                "relettered(machine, names)", "put_for(machine, letter, other)"],
+    "machinebytes": ["machine_bytes(machine)", "bytes_machine(thing)"],
+    "makers": ["nothing(letters)", "empty(letters)", "just(letters, row)", "one_of(letters, some)",
+               "all_rows(letters)"],
+    "moves": ["teller(move)", "moves_of(piece)"],
+    "outcomes": ["outcome(piece)"],
+    "places": ["places(piece)", "part_at(piece, at)", "names_at(piece, at)",
+               "exchanged(piece, at, term)"],
+}
+CLASSES = {
+    "pieces": ["Piece(size, names, term)", "Function(size, names, params, term)"],
+    "arounds": ["Around(size, names, sort, boxes, functions, ending)"],
+    "books": ["Book(size, entries)"],
+    "machines": ["Machine(letters, ways, ends)"],
+}
+FOLDER = Path(playsalike.__file__).parent
+
+
+class Interface(unittest.TestCase):
+    def check(self, table, is_right):
+        for module, told in table.items():
+            found = import_module("playsalike." + module)
+            for line in told:
+                word = line.split("(")[0]
+                thing = getattr(found, word)
+                self.assertTrue(is_right(thing), line)
+                self.assertEqual(word + str(inspect.signature(thing)), line)
+                self.assertEqual(thing.__module__, "playsalike." + module, line)
+
+    def test_functions(self):
+        self.check(CALLS, inspect.isfunction)
+
+    def test_classes(self):
+        self.check(CLASSES, inspect.isclass)
+
+    def test_the_package_holds_nothing_but_its_files(self):
+        found = [path.name for path in FOLDER.iterdir() if path.name != "__pycache__"]
+        self.assertTrue(all(name.endswith(".py") for name in found))
+        self.assertIn("__init__.py", found)
+
+    def test_a_name_like_another_kind_of_thing_is_none_of_it(self):
+        piece = Piece(2, {}, ("skip",))
+        function = Function(2, {}, (), ("skip",))
+        self.assertFalse(piece == function)
+        self.assertFalse(function == piece)
+
+
+if __name__ == "__main__":
+    unittest.main()
