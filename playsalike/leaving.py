@@ -3,8 +3,7 @@
 from playsalike.errors import BadLetter, BadLetters, BadNames
 from playsalike.growing import grown, grown_sets, no_silent
 from playsalike.letters import check_letters, in_order, is_letter, number_of_letters
-from playsalike.machines import (check_machine, check_many_letters, end_table, least_machine,
-                                 ways_over)
+from playsalike.machines import check_machine, end_table, least_machine, ways_over
 
 
 def left_out(machine, letters):
@@ -42,7 +41,6 @@ def let_in(machine, letters):
     if any([letter in machine.letters for letter in letters]):
         raise BadLetters("a letter of the machine cannot be let in")
     wide = in_order(list(machine.letters) + list(letters))
-    check_many_letters(wide)
     numbers = number_of_letters(wide)
     added = [numbers[letter] for letter in in_order(letters)]
     ways = []
@@ -103,7 +101,6 @@ def put_for(machine, letter, other):
         raise BadLetter("no letter of the machine")
     kept = [one for one in machine.letters if one != letter]
     letters = in_order(kept + list(other.letters))
-    check_many_letters(letters)
     ways, silent = _parted_ways(machine, kept)
     numbers = number_of_letters(letters)
     places = [numbers[one] for one in kept]
@@ -134,5 +131,4 @@ def _with_runs(letters, parted, is_end, other):
         goal, state = divmod(standing - many, len(run_ways))
         return [goal] if state in other_ends else []
 
-    return grown_sets(letters, [0], moves, silent_from,
-                      lambda standing: standing < many and is_end(standing))
+    return grown_sets(letters, [0], moves, silent_from, is_end)

@@ -103,9 +103,7 @@ def names_within(names, term, number):
 def plain_sort(names, term):
     """The plain sort of a term that is known to be one."""
     while term[0] in ("then", "if", "new"):
-        if term[0] == "new":
-            names = names_within(names, term, 0)
-        term = term[2] if term[0] == "if" else term[-1]
+        term = term[-1]
     if term[0] == "name":
         return names[term[1]][1]
     if term[0] == "never":

@@ -85,3 +85,11 @@ def check_least(test, machine):
     test.assertEqual(met, list(range(len(machine.ways))))
     test.assertEqual(list(machine.ends), sorted(set(machine.ends)))
     test.assertEqual(Machine(machine.letters, machine.ways, machine.ends), machine)
+
+
+def counting(letter, last):
+    """Takes rows of a and b with last behind, in which letter stands 139 times or more."""
+    k = (A, B).index(letter)
+    ways = [sorted([(k, min(at + 1, 139)), (1 - k, at)]) for at in range(140)]
+    ways[139].append((2, 140))
+    return Machine([A, B, last], ways + [[]], [140])

@@ -55,6 +55,12 @@ class Arounds(unittest.TestCase):
             made(functions={**FUNCTIONS, "x": function(number(0))})]
         for other in others + ODD_VALUES:
             self.assertFalse(made() == other)
+        bare = Around(2, {}, "num", (), {}, SKIP)
+        self.assertEqual(bare, Around(2, {}, "num", (), {}, SKIP))
+        self.assertNotEqual(bare, Around(3, {}, "num", (), {}, SKIP))
+        self.assertNotEqual(bare, Around(2, {}, "do", (), {}, SKIP))
+        self.assertNotEqual(bare, Around(2, {}, "num", (("a", 0),), {}, SKIP))
+        self.assertNotEqual(bare, Around(2, {}, "num", (), {}, ("then", SKIP, SKIP)))
 
     def test_handed_in_and_changed_afterwards(self):
         names, functions = dict(NAMES), dict(FUNCTIONS)

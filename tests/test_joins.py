@@ -2,7 +2,7 @@
 
 import unittest
 
-from languages import A, B, C, D, accepts, all_rows_of, check_least, random_machine
+from languages import A, B, C, D, accepts, all_rows_of, check_least, counting, random_machine
 from playsalike.errors import BadMachine, TooMany
 from playsalike.joins import both, contrary, joined, without
 from playsalike.letters import in_order
@@ -106,14 +106,6 @@ class Joins(unittest.TestCase):
         self.assertEqual(caught.exception.most, 2000)
         self.assertEqual(joined(counting(A, C), contrary(widened(counting(B, D), [C]))),
                          contrary(widened(counting(B, D), [C])))
-
-
-def counting(letter, last):
-    """Takes rows of a and b with last behind, in which letter stands 139 times or more."""
-    k = (A, B).index(letter)
-    ways = [sorted([(k, min(at + 1, 139)), (1 - k, at)]) for at in range(140)]
-    ways[139].append((2, 140))
-    return Machine([A, B, last], ways + [[]], [140])
 
 
 if __name__ == "__main__":

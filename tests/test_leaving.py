@@ -3,7 +3,7 @@
 import unittest
 from itertools import product
 
-from languages import ALL, A, B, C, D, accepts, all_rows_of, check_least, random_machine, rows
+from languages import ALL, A, B, C, D, accepts, all_rows_of, check_least, counting, random_machine, rows
 from playsalike.errors import BadLetter, BadLetters, BadMachine, BadNames, TooMany
 from playsalike.joins import both, joined
 from playsalike.leaving import kept_by, left_out, let_in, put_for, relettered
@@ -223,14 +223,6 @@ def marked_by(many, is_marked=False):
     start = 2 if is_marked else 1
     rest = [[(0, n), (1, n)] for n in range(start + 1, start + many)]
     return Machine([A, B, C], first + ahead + rest + [[]], [start + many - 1])
-
-
-def counting(letter, last):
-    """Takes rows of a and b with last behind, in which letter stands 139 times or more."""
-    k = (A, B).index(letter)
-    ways = [sorted([(k, min(at + 1, 139)), (1 - k, at)]) for at in range(140)]
-    ways[139].append((2, 140))
-    return Machine([A, B, last], ways + [[]], [140])
 
 
 if __name__ == "__main__":

@@ -3,7 +3,9 @@
 import unittest
 
 from playsalike.errors import BadNumber, BadPiece, BadSort, BadTerm, TooMany
+from playsalike.evaluating import evaluated
 from playsalike.pieces import Function, Piece, free_names, function_of, put, put_in
+from playsalike.terms import is_term
 from samples import BOX, DO, NUM, ODD_VALUES, SKIP, count_nodes, depth_of, leveled, name, number
 from samples import put_by_tags, random_term, some
 
@@ -41,6 +43,7 @@ class Pieces(unittest.TestCase):
         self.assertNotEqual(piece, Piece(2, {"x": NUM}, X))
         self.assertNotEqual(piece, Piece(2, {"x": NUM, "go": NUM}, X))
         self.assertNotEqual(piece, Piece(2, {"x": NUM, "go": DO}, GO))
+        self.assertNotEqual(piece, Piece(2, {"x": NUM, "go": DO}, ("not", X)))
         self.assertNotEqual(Piece(2, {}, ("never", "num")), Piece(2, {}, ("never", "do")))
         for thing in ODD_VALUES + [Function(2, {"x": NUM, "go": DO}, (), X), X]:
             self.assertFalse(piece == thing)
@@ -222,12 +225,29 @@ class Putting(unittest.TestCase):
         term = ("then", ("new", "b", 0, ("set", name("b"), number(1))), X)
         piece = Piece(2, {"x": NUM}, term)
         other = Function(2, {"b": NUM}, (), name("b"))
-        self.assertEqual(leveled(put_in(piece, "x", other).term),
-                         leveled(("then", term[1], name("b"))))
+        self.assertEqual(put_in(piece, "x", other).term, ("then", term[1], name("b")))
         other = Function(2, {"b": NUM}, (), number(1))
         inner = ("new", "b", 0, ("then", ("set", name("b"), X), X))
-        self.assertEqual(leveled(put_in(Piece(2, {"x": NUM}, inner), "x", other).term),
-                         leveled(("new", "b", 0, ("then", ("set", name("b"), number(1)), number(1)))))
+        self.assertEqual(put_in(Piece(2, {"x": NUM}, inner), "x", other).term,
+                         ("new", "b", 0, ("then", ("set", name("b"), number(1)), number(1))))
+
+    def test_more_words_in_one_another_than_there_are_letters(self):
+        names = {"g": (("num",), "num")}
+        piece = Piece(4, names, ("new", "c", 1, name("g", ("get", name("c")))))
+        other = Function(4, names, (("p", "num"),),
+                         ("new", "c", 1, name("g", ("sum", name("p"), ("get", name("c"))))))
+        for _ in range(60):
+            piece = put(piece, "g", other)
+        whole = put(piece, "g", Function(4, {}, (("p", "num"),), name("p")))
+        words = []
+        term = whole.term
+        while term[0] == "new":
+            words.append(term[1])
+            term = term[3]
+        self.assertEqual(len(words), 61)
+        self.assertEqual(len(set(words)), 61)
+        self.assertTrue(all(is_term(4, {}, ("new", word, 0, SKIP)) for word in words))
+        self.assertEqual(evaluated(whole, 1000)[:2], ("num", 61 % 4))
 
     def test_own_words_that_hide_the_name(self):
         piece = Piece(2, {"x": NUM}, ("sum", X, ("new", "x", 1, ("get", X))))

@@ -106,7 +106,8 @@ class Terms(unittest.TestCase):
                  ("new", "B", 0, X), ("new", "abcdefghi", 0, X), ("new", ["b"], 0, X),
                  ("made", X, "w"), ("made", X, "", GO), ("made", X, 0, GO), ("claim",),
                  ("claim", X, X), ("plus", X, X), (("sum",), X, X), (None,), ["sum", X, X], (1, X),
-                 ("Sum", X, X), ("made", "w", X, GO)]
+                 ("Sum", X, X), ("made", "w", X, GO), (["sum"], X, X), ({}, X), ("name", ["x"], ()),
+                 ("name", {"x": 1}, ()), ("never", ["num"]), ("new", {}, 0, X), ("number", [0])]
         for term in wrong:
             self.check_wrong(term, ())
             self.check_wrong(("then", term, X), (1,))
