@@ -13,12 +13,15 @@ def first_row(machine):
     """The least row that the machine takes, None if there is none."""
     check_machine(machine)
     ends = end_table(machine)
-    return _first(machine.letters, 0, lambda state: machine.ways[state],
+    return least_row(machine.letters, 0, lambda state: machine.ways[state],
                   lambda state: state in ends)
 
 
-def _first(letters, start, moves, is_wanted):
-    """The least row that leads from start to a wanted key, None if there is none."""
+def least_row(letters, start, moves, is_wanted):
+    """The least row that leads from start to a wanted key, None if there is none.
+
+    moves tells of a key the pairs (k, key), k ascending.
+    """
     seen = {start: True}
     keys = [start]
     reached_by = [None]
@@ -49,7 +52,7 @@ def first_apart(machine, other):
     letters, moves = _pair_walk(machine, other, lambda pair: True)
     ends = end_table(machine)
     other_ends = end_table(other)
-    return _first(letters, (0, 0), _unmerged(moves, len(machine.ways)),
+    return least_row(letters, (0, 0), _unmerged(moves, len(machine.ways)),
                   lambda pair: (pair[0] in ends) != (pair[1] in other_ends))
 
 
@@ -95,7 +98,7 @@ def first_beyond(machine, other):
     letters, moves = _pair_walk(machine, other, lambda pair: pair[0] is not None)
     ends = end_table(machine)
     other_ends = end_table(other)
-    return _first(letters, (0, 0), moves,
+    return least_row(letters, (0, 0), moves,
                   lambda pair: pair[0] in ends and pair[1] not in other_ends)
 
 

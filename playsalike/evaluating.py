@@ -2,8 +2,8 @@
 
 from playsalike.errors import BadNumber
 from playsalike.kinds import is_within
-from playsalike.pieces import check_whole
-from playsalike.running import Run, go_on
+from playsalike.pieces import check_whole, plan_of_piece
+from playsalike.working import Work, go_on
 
 MOST_STEPS = 10 ** 6
 
@@ -12,15 +12,15 @@ def evaluated(piece, steps):
     """What comes of a whole piece within so many steps: (word, number, steps done)."""
     check_whole(piece)
     check_steps(steps)
-    run = Run(piece.size, piece.term, False)
-    go_on(run, steps)
-    if run.stopped == "on":
-        return ("on", 0, steps)
-    if run.stopped == "broken":
-        return ("broken", 0, run.steps)
-    if piece.kind == "num":
-        return ("num", run.worths[-1], run.steps)
-    return ("do", 0, run.steps)
+    work = Work(piece.size, plan_of_piece(piece), {}, steps)
+    deed, node, worth = go_on(work, "begin", 0, None)
+    while deed == "loop":
+        deed, node, worth = go_on(work, "begin", work.plan.parts[node][0], None)
+    if deed == "broken":
+        return ("broken", 0, work.steps)
+    if deed == "ended":
+        return (piece.kind, worth if piece.kind == "num" else 0, work.steps)
+    return ("on", 0, steps)
 
 
 def check_steps(steps):

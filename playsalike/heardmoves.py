@@ -10,9 +10,9 @@ def heard_moves(piece):
     moves = [("ask",)]
     for word, sort in piece.names.items():
         taken, given = sort
-        moves.extend(_answers(given, (word,), piece.size))
+        moves.extend(answers_of(given, (word,), piece.size))
         for at, plain in enumerate(taken):
-            moves.extend(_questions(plain, "ask", (word, at), piece.size))
+            moves.extend(questions_to(plain, "ask", (word, at), piece.size))
     return in_order(moves)
 
 
@@ -26,20 +26,20 @@ def told_moves(piece):
         moves.append(("do",))
     for word, sort in piece.names.items():
         taken, given = sort
-        moves.extend(_questions(given, "call", (word,), piece.size))
+        moves.extend(questions_to(given, "call", (word,), piece.size))
         for at, plain in enumerate(taken):
-            moves.extend(_answers(plain, (word, at), piece.size))
+            moves.extend(answers_of(plain, (word, at), piece.size))
     return in_order(moves)
 
 
-def _questions(plain, asking, whose, size):
+def questions_to(plain, asking, whose, size):
     """The questions to what has this plain sort; asking is the word for numbers and deeds."""
     if plain == "box":
         return [("get",) + whose] + [("set",) + whose + (number,) for number in range(size)]
     return [(asking,) + whose]
 
 
-def _answers(plain, whose, size):
+def answers_of(plain, whose, size):
     """The answers of what has this plain sort."""
     if plain == "num":
         return [("num",) + whose + (number,) for number in range(size)]

@@ -83,15 +83,20 @@ def takes(machine, row):
     """Whether the machine takes the row."""
     check_machine(machine)
     check_row(row)
+    return state_behind(machine, row) in machine.ends
+
+
+def state_behind(machine, row):
+    """The state that the row leads to, None if it leads to none."""
     numbers = number_of_letters(machine.letters)
     state = 0
     for letter in row:
         if letter not in numbers:
-            return False
+            return None
         state = goal_of(machine.ways[state], numbers[letter])
         if state is None:
-            return False
-    return state in machine.ends
+            return None
+    return state
 
 
 def goal_of(way, k):

@@ -2,6 +2,7 @@
 
 from playsalike.errors import BadPiece, TooMany
 from playsalike.kinds import check_size, is_pair, is_word
+from playsalike.plans import Plan
 from playsalike.puttings import Body, measured, replaced
 from playsalike.shapes import free_words
 from playsalike.sorts import MOST_NAMES, ascending, check_names, is_plain
@@ -144,6 +145,16 @@ def _put_together(piece, word, other):
 def body_of(function):
     """What stands for a name that this function is put in for."""
     return Body([word for word, sort in function.params], measured(function.term))
+
+
+def plan_of_piece(piece):
+    """The plan of the term of the piece."""
+    return Plan(piece.names, piece.term)
+
+
+def plan_of_function(function):
+    """The plan of the term of the function, its parameters taken as names without arguments."""
+    return Plan({**function.names, **names_of_params(function.params)}, function.term)
 
 
 def _names_put(piece, word, other):

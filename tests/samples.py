@@ -134,7 +134,7 @@ class Meaning:
         if word == "never":
             raise Spent()
         if word == "name":
-            return env[term[1]]
+            return self.use(term, env)
         if word in TWOS:
             first, second = self.of(term[1], env), self.of(term[2], env)
             return {"sum": (first + second) % self.size, "less": (first - second) % self.size,
@@ -162,18 +162,27 @@ class Meaning:
             raise Broken()
         return None
 
+    def use(self, term, env):
+        return env[term[1]]
+
     def read(self, box, env):
         self.step()
         if box[0] == "name":
-            return env[box[1]]["kept"]
+            return self.got(box[1], env)
         return self.of(box[1], env)
+
+    def got(self, word, env):
+        return env[word]["kept"]
 
     def write(self, box, worth, env):
         self.step()
         if box[0] == "name":
-            env[box[1]]["kept"] = worth
+            self.let(box[1], worth, env)
         else:
             self.of(box[3], {**env, box[2]: worth})
+
+    def let(self, word, worth, env):
+        env[word]["kept"] = worth
 
 
 def plain_meaning(piece, limit):

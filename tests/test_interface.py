@@ -34,6 +34,18 @@ CALLS = {
                "all_rows(letters)"],
     "moves": ["teller(move)", "moves_of(piece)"],
     "outcomes": ["outcome(piece)"],
+    "houselogs": ["log_of(house)", "read_log(piece, thing)"],
+    "driving": ["driven(piece, digits)", "house_plays(piece, most)"],
+    "playing": ["is_begun(piece, thing)", "is_play(piece, thing)", "waiting(piece, row)"],
+    "countings": ["count_plays(piece, length)", "all_plays(piece, length)"],
+    "programs": ["programmed(piece, givings)", "whole_piece(piece, givings)"],
+    "rests": ["led(machine, row)", "next_letters(machine, row)", "rest(machine, row)",
+              "beginnings(machine)"],
+    "plays": ["machine_of(piece)", "has_play(piece, thing)", "plays_up_to(piece, most)",
+              "how_many_plays(piece, length)", "least_play(piece)", "asked_names(piece)",
+              "reply(piece, row)", "may_hear(piece, row)"],
+    "alike": ["same(piece, other)", "less(piece, other)"],
+    "claims": ["claims_in(piece)", "least_break(piece)", "is_safe(piece)"],
     "places": ["places(piece)", "part_at(piece, at)", "names_at(piece, at)",
                "exchanged(piece, at, term)"],
 }
@@ -42,6 +54,13 @@ CLASSES = {
     "arounds": ["Around(size, names, sort, boxes, functions, ending)"],
     "books": ["Book(size, entries)"],
     "machines": ["Machine(letters, ways, ends)"],
+    "houses": ["House(piece)"],
+    "couples": ["Couple(piece, givings)"],
+}
+METHODS = {
+    ("houses", "House"): ["can_hear(self)", "hear(self, move)", "twin(self)", "steps(self)", "spots(self)",
+                          "boxes(self)"],
+    ("couples", "Couple"): ["can_hear(self)", "hear(self, move)", "twin(self)", "passed(self)"],
 }
 FOLDER = Path(playsalike.__file__).parent
 
@@ -62,6 +81,13 @@ class Interface(unittest.TestCase):
 
     def test_classes(self):
         self.check(CLASSES, inspect.isclass)
+
+    def test_methods_are_defined_in_the_class_itself(self):
+        for (module, word), told in METHODS.items():
+            found = vars(getattr(import_module("playsalike." + module), word))
+            for line in told:
+                method = found[line.split("(")[0]]
+                self.assertEqual(method.__name__ + str(inspect.signature(method)), line)
 
     def test_the_package_holds_nothing_but_its_files(self):
         found = [path.name for path in FOLDER.iterdir() if path.name != "__pycache__"]
