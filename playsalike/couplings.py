@@ -3,16 +3,15 @@
 from playsalike.givings import boxes_given, functions_given
 from playsalike.passing import (answer_of_box, heard_by_function, heard_by_piece, is_last,
                                 is_question)
-from playsalike.pieces import plan_of_function, plan_of_piece
-from playsalike.players import Player
+from playsalike.players import player_of_function, player_of_piece
 from playsalike.working import Watch
 
 
 class Coupling:
     """The player of a piece, and a run of a function for each question to its name that waits.
 
-    Functions are given with their plans. What comes is heard by who spoke last: by the piece, or
-    by the run that began last.
+    Functions are given as pairs of their parameters and a player of which each run is a twin.
+    What comes is heard by who spoke last: by the piece, or by the run that began last.
     """
 
     def __init__(self, player, functions, boxes):
@@ -54,17 +53,17 @@ class Coupling:
         return None
 
     def _pass_to_function(self, told):
-        function, plan = self.functions[told[1]]
+        params, starter = self.functions[told[1]]
         if is_question(told):
-            self.runs.append((told[1], Player(function.size, function.kind[1], plan)))
+            self.runs.append((told[1], starter.twin()))
         self.passed += 1
         self.is_piece_on = False
-        return heard_by_function(told, function.params)
+        return heard_by_function(told, params)
 
     def _pass_to_piece(self, told):
         word = self.runs[-1][0]
-        function, _ = self.functions[word]
-        heard = heard_by_piece(told, word, function.params)
+        params, _ = self.functions[word]
+        heard = heard_by_piece(told, word, params)
         if heard is None:
             return None
         if is_last(told):
@@ -89,7 +88,6 @@ class Coupling:
 
 def coupling_of(piece, givings):
     """The coupling of the piece and right givings for it."""
-    functions = {word: (function, plan_of_function(function))
+    functions = {word: (function.params, player_of_function(function))
                  for word, function in functions_given(givings).items()}
-    player = Player(piece.size, piece.kind, plan_of_piece(piece))
-    return Coupling(player, functions, boxes_given(givings))
+    return Coupling(player_of_piece(piece), functions, boxes_given(givings))

@@ -4,8 +4,8 @@ from playsalike.errors import BadDigits, BadNumber, TooMany
 from playsalike.houses import House
 from playsalike.kinds import is_list, is_number, is_within
 from playsalike.letters import in_order
-from playsalike.pieces import check_piece, plan_of_piece
-from playsalike.players import Player
+from playsalike.pieces import check_piece
+from playsalike.players import player_of_piece
 
 MOST_DIGITS = 400
 MOST_PLAYS = 2000
@@ -49,7 +49,7 @@ def house_plays(piece, most):
         raise BadNumber("most")
     found = []
     tried = 0
-    begun = [(Player(piece.size, piece.kind, plan_of_piece(piece)), [])]
+    begun = [(player_of_piece(piece), [])]
     for _ in range(most // 2):
         behind = []
         for player, moves in begun:

@@ -7,29 +7,41 @@ from playsalike.pieces import check_piece
 def heard_moves(piece):
     """The list, in order, of the moves that the surroundings of the piece can make."""
     check_piece(piece)
-    moves = [("ask",)]
-    for word, sort in piece.names.items():
-        taken, given = sort
-        moves.extend(answers_of(given, (word,), piece.size))
-        for at, plain in enumerate(taken):
-            moves.extend(questions_to(plain, "ask", (word, at), piece.size))
-    return in_order(moves)
+    return heard_over(piece.size, piece.kind, piece.names)
 
 
 def told_moves(piece):
     """The list, in order, of the moves that the piece can make."""
     check_piece(piece)
-    moves = [("break",)]
-    if piece.kind == "num":
-        moves.extend([("num", number) for number in range(piece.size)])
-    else:
-        moves.append(("do",))
-    for word, sort in piece.names.items():
+    return told_over(piece.size, piece.kind, piece.names)
+
+
+def heard_over(size, kind, names):
+    """The list, in order, of the moves that a term of this plain sort over names can hear."""
+    moves = questions_to(kind, "ask", (), size)
+    for word, sort in names.items():
         taken, given = sort
-        moves.extend(questions_to(given, "call", (word,), piece.size))
+        moves.extend(answers_of(given, (word,), size))
         for at, plain in enumerate(taken):
-            moves.extend(answers_of(plain, (word, at), piece.size))
+            moves.extend(questions_to(plain, "ask", (word, at), size))
     return in_order(moves)
+
+
+def told_over(size, kind, names):
+    """The list, in order, of the moves that a term of this plain sort over names can tell."""
+    moves = [("break",)]
+    moves.extend([("do",)] if kind == "do" else answers_of(kind, (), size))
+    for word, sort in names.items():
+        taken, given = sort
+        moves.extend(questions_to(given, "call", (word,), size))
+        for at, plain in enumerate(taken):
+            moves.extend(answers_of(plain, (word, at), size))
+    return in_order(moves)
+
+
+def moves_over(size, kind, names):
+    """The list, in order, of all moves of a term of this plain sort over names."""
+    return in_order(heard_over(size, kind, names) + told_over(size, kind, names))
 
 
 def questions_to(plain, asking, whose, size):

@@ -2,8 +2,8 @@
 
 from playsalike.errors import BadMove
 from playsalike.letters import in_order, is_letter
-from playsalike.pieces import check_piece, plan_of_piece
-from playsalike.players import Player
+from playsalike.pieces import check_piece
+from playsalike.players import player_of_piece
 
 
 class House:
@@ -14,7 +14,7 @@ class House:
         self.piece = piece
         self.moves = ()
         self.word = "new"
-        self._player = Player(piece.size, piece.kind, plan_of_piece(piece))
+        self._player = player_of_piece(piece)
 
     def can_hear(self):
         """The list, in order, of the moves that can come."""

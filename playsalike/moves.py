@@ -1,9 +1,8 @@
 """Moves: who makes them, and which ones there are of a piece."""
 
 from playsalike.errors import BadMove
-from playsalike.heardmoves import heard_moves, told_moves
+from playsalike.heardmoves import moves_over
 from playsalike.kinds import is_within, is_word
-from playsalike.letters import in_order
 from playsalike.pieces import check_piece
 
 # The things behind the words of moves: w a name's word, i an argument's place, n a number.
@@ -44,4 +43,4 @@ def _is_thing(wanted, thing):
 def moves_of(piece):
     """The list, in order, of all moves of a piece."""
     check_piece(piece)
-    return in_order(heard_moves(piece) + told_moves(piece))
+    return moves_over(piece.size, piece.kind, piece.names)

@@ -14,27 +14,59 @@ MOST_PAIRS = 60000
 # What awaits is told by in keys; a loop that is to be gone through awaits nothing.
 AWAITED = {"loop": 0, "call": 1, "get": 2, "set": 3}
 
-# The state behind each ended play.
+# The states ahead of all moves, and behind each ended play.
+BEGUN = 0
 ENDED = 1
 
 
-class Net:
-    """The states of a term of some plain sort that is played in all ways, from state 0.
+class States:
+    """States that plays lead to: behind each move that is heard stands one at which one is told.
 
-    Behind each move that is heard stands a state at which one move is told.
+    Those that wait for a move are known by keys.
     """
+
+    def __init__(self, letters):
+        self.letters = letters
+        self.numbers = number_of_letters(letters)
+        self.ways = [[], []]
+        self.waits = {}
+        self.tellings = {}
+
+    def waiting(self, key):
+        """The pair of the state that waits with this key, and whether it is a new one."""
+        if key in self.waits:
+            return self.waits[key], False
+        self.waits[key] = len(self.ways)
+        self.ways.append([])
+        return self.waits[key], True
+
+    def telling(self, move, goal):
+        """The state at which this move is told, and leads to this goal."""
+        told = (self.numbers[move], goal)
+        if told not in self.tellings:
+            self.tellings[told] = len(self.ways)
+            self.ways.append([told])
+        return self.tellings[told]
+
+    def lead(self, state, goals):
+        """Lets moves that are heard, pairs of a move and a goal, lead on from a state that waits."""
+        self.ways[state] = sorted([(self.numbers[move], goal) for move, goal in goals])
+
+    def machine(self):
+        """The machine of the rows that lead from the first state to the ended one."""
+        return least_machine(self.letters, self.ways, [ENDED])
+
+
+class Net:
+    """A term of some plain sort that is played in all ways, and the states that this leads to."""
 
     def __init__(self, size, kind, plan, letters):
         self.size = size
         self.kind = kind
         self.plan = plan
-        self.letters = letters
-        self.numbers = number_of_letters(letters)
-        self.ways = [[], []]
+        self.states = States(letters)
         self.is_broken = False
-        self.waiting = []
-        self.states = {}
-        self.tellings = {}
+        self.unheard = []
         self.loops = {}
         self.pairs = {}
         self.outlooks = {}
@@ -43,32 +75,25 @@ class Net:
 def net_of(size, kind, plan, letters):
     """The net of all plays of the term of the plan, with these letters, in order."""
     net = Net(size, kind, plan, letters)
-    _hear_all(net, 0, 0, None, {}, first_moves(kind, size))
-    while len(net.waiting) > 0:
-        state, node, awaits, kept = net.waiting.pop()
+    _hear_all(net, BEGUN, (0, None, {}), first_moves(kind, size))
+    while len(net.unheard) > 0:
+        state, stand = net.unheard.pop()
+        node, awaits, kept = stand
         moves = moves_awaited(Work(size, plan, kept, None), node, awaits)
-        _hear_all(net, state, node, awaits, kept, moves)
+        _hear_all(net, state, stand, moves)
     return net
 
 
-def machine_of_net(net):
-    """The machine of the ended plays."""
-    return least_machine(net.letters, net.ways, [ENDED])
+def _hear_all(net, state, stand, moves):
+    """Lets what stands at a node hear each of the moves."""
+    goals = [(move, _heard(net, stand, move)) for move in moves]
+    net.states.lead(state, [(move, goal) for move, goal in goals if goal is not None])
 
 
-def _hear_all(net, state, node, awaits, kept, moves):
-    """Lets the node, in this state, hear each of the moves."""
-    row = []
-    for move in moves:
-        goal = _heard(net, node, awaits, dict(kept), move)
-        if goal is not None:
-            row.append((net.numbers[move], goal))
-    net.ways[state] = sorted(row)
-
-
-def _heard(net, node, awaits, kept, move):
+def _heard(net, stand, move):
     """The state behind a move that is heard, None if nothing is told any more."""
-    work = Work(net.size, net.plan, kept, None)
+    node, awaits, kept = stand
+    work = Work(net.size, net.plan, dict(kept), None)
     start, worth = place_heard(net.plan, node, awaits, move)
     deed = "begin" if awaits is None or is_asked(move) else "done"
     found = go_on(work, deed, start, worth)
@@ -107,23 +132,12 @@ def _telling(net, work, found):
     move = move_told(net.plan, net.kind, found)
     if move is None:
         return None
-    goal = ENDED
     if move == ("break",):
         net.is_broken = True
-    elif found[0] != "ended":
-        goal = _waiting_state(net, work, found[1], awaited_behind(move))
-    told = (net.numbers[move], goal)
-    if told not in net.tellings:
-        net.tellings[told] = len(net.ways)
-        net.ways.append([told])
-    return net.tellings[told]
-
-
-def _waiting_state(net, work, node, awaits):
-    """The state of what waits at the node; a new one is still to hear all that can come."""
-    key = _key_at(net, work, node, awaits)
-    if key not in net.states:
-        net.states[key] = len(net.ways)
-        net.waiting.append((len(net.ways), node, awaits, work.kept))
-        net.ways.append([])
-    return net.states[key]
+    if found[0] in ("ended", "broken"):
+        return net.states.telling(move, ENDED)
+    awaits = awaited_behind(move)
+    state, is_new = net.states.waiting(_key_at(net, work, found[1], awaits))
+    if is_new:
+        net.unheard.append((state, (found[1], awaits, work.kept)))
+    return net.states.telling(move, state)

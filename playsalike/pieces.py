@@ -131,6 +131,12 @@ def check_measures(nodes, depth):
 
 
 def _put_together(piece, word, other):
+    names = names_put(piece, word, other)
+    return replaced(measured(piece.term), {word: body_of(other)}), names
+
+
+def names_put(piece, word, other):
+    """The names of the piece with other in the place of the name; BadPiece if it cannot be put."""
     check_piece(piece)
     if not isinstance(word, str) or word not in piece.names:
         raise BadPiece("word")
@@ -138,8 +144,14 @@ def _put_together(piece, word, other):
         raise BadPiece("other")
     if other.kind != piece.names[word]:
         raise BadPiece("other")
-    names = _names_put(piece, word, other)
-    return replaced(measured(piece.term), {word: body_of(other)}), names
+    names = {name: sort for name, sort in piece.names.items() if name != word}
+    for name, sort in other.names.items():
+        if name in names and names[name] != sort:
+            raise BadPiece("names")
+        names[name] = sort
+    if len(names) > MOST_NAMES:
+        raise BadPiece("names")
+    return names
 
 
 def body_of(function):
@@ -155,14 +167,3 @@ def plan_of_piece(piece):
 def plan_of_function(function):
     """The plan of the term of the function, its parameters taken as names without arguments."""
     return Plan({**function.names, **names_of_params(function.params)}, function.term)
-
-
-def _names_put(piece, word, other):
-    names = {name: sort for name, sort in piece.names.items() if name != word}
-    for name, sort in other.names.items():
-        if name in names and names[name] != sort:
-            raise BadPiece("names")
-        names[name] = sort
-    if len(names) > MOST_NAMES:
-        raise BadPiece("names")
-    return names

@@ -4,7 +4,7 @@ from playsalike.errors import BadPiece, BadPlace
 from playsalike.kinds import is_number
 from playsalike.pieces import check_measures, check_piece, made_piece
 from playsalike.shapes import (all_parts, measures, names_within, part_along, part_paths,
-                               parts_of, plain_sort, with_parts)
+                               parts_of, plain_sort, with_part_along)
 from playsalike.sorts import ascending
 from playsalike.terms import checked_sort
 
@@ -36,7 +36,7 @@ def exchanged(piece, at, term):
     sort = checked_sort(piece.size, names, term)
     if sort != plain_sort(names, part_along(piece.term, at)):
         raise BadPiece("sort")
-    whole = _with_part(piece.term, numbers, term)
+    whole = with_part_along(piece.term, at, term)
     nodes, depth = measures(whole)
     check_measures(nodes, depth)
     return made_piece(piece.size, piece.names, whole, piece.kind)
@@ -67,16 +67,3 @@ def _meanings_at(piece, numbers):
         names = names_within(names, term, number)
         term = parts_of(term)[number]
     return names
-
-
-def _with_part(term, numbers, part):
-    """The term with this part in the place to which the numbers lead."""
-    around = []
-    for number in numbers:
-        around.append(term)
-        term = parts_of(term)[number]
-    for at in reversed(range(len(numbers))):
-        parts = parts_of(around[at])
-        parts[numbers[at]] = part
-        part = with_parts(around[at], parts)
-    return part

@@ -1,6 +1,7 @@
 """Terms that are played: what can be heard, what is told then, and where they wait."""
 
 from playsalike.heardmoves import answers_of, questions_to
+from playsalike.pieces import plan_of_function, plan_of_piece
 from playsalike.plans import place_of, uses_around
 from playsalike.working import Work, go_on, gone_through
 
@@ -68,6 +69,16 @@ class Player:
         found = [(place_of(plan, node), number) for node, number in self.work.kept.items()
                  if plan.terms[node][0] == "new"]
         return dict(sorted(found))
+
+
+def player_of_piece(piece):
+    """A player of the term of the piece."""
+    return Player(piece.size, piece.kind, plan_of_piece(piece))
+
+
+def player_of_function(function):
+    """A player of the term of the function."""
+    return Player(function.size, function.kind[1], plan_of_function(function))
 
 
 def first_moves(kind, size):

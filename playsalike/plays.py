@@ -6,7 +6,7 @@ from playsalike.kinds import is_list, is_within
 from playsalike.letters import is_letters
 from playsalike.machines import takes
 from playsalike.moves import moves_of
-from playsalike.nets import machine_of_net, net_of
+from playsalike.nets import net_of
 from playsalike.pieces import check_piece, plan_of_piece
 from playsalike.playing import is_begun, is_play
 from playsalike.rests import next_letters
@@ -20,7 +20,7 @@ def net_of_piece(piece):
 def machine_of(piece):
     """The machine that takes just the ended plays of the piece."""
     check_piece(piece)
-    return machine_of_net(net_of_piece(piece))
+    return net_of_piece(piece).states.machine()
 
 
 def has_play(piece, thing):

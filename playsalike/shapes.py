@@ -132,6 +132,17 @@ def part_along(term, path):
     return term
 
 
+def with_part_along(term, path, part):
+    """The term with this part in the place to which the indexes of path lead."""
+    around = []
+    for index in path:
+        around.append((index, term))
+        term = term[index]
+    for index, whole in reversed(around):
+        part = whole[:index] + (part,) + whole[index + 1:]
+    return part
+
+
 def measures(term):
     """The pair of the number of nodes of a term and how deep it is."""
     nodes = 0

@@ -3,12 +3,13 @@
 from functools import reduce
 
 from playsalike.chains import again, behind
+from playsalike.functions import function_moves
 from playsalike.joins import joined
 from playsalike.leaving import kept_by, left_out
 from playsalike.machines import Machine, widened
 from playsalike.makers import empty, just, nothing
 from playsalike.moves import moves_of
-from playsalike.pieces import Piece
+from playsalike.pieces import Function, Piece
 from samples import BOX, DO, NUM, TWOS, Broken, Meaning, Spent, count_nodes, depth_of, random_term
 
 NO_ROW, NO_MOVE = nothing([]), empty([])
@@ -170,6 +171,43 @@ def machine_by_rows(piece):
     else:
         ended = in_turn(found, one(("do",)))
     return widened(in_turn(one(("ask",)), any_of(ended, broken)), moves_of(piece))
+
+
+def machine_of_function_by_rows(function):
+    """The machine of the ended plays of a function, put together from rows as points 32 and 35 tell."""
+    told = Over(function)
+    rows = Rows(told)
+    if function.kind != BOX:
+        found, broken = rows.middles(function.term, {})
+        numbers = range(function.size)
+        ended = (in_turn(found, one(("do",))) if function.kind[1] == "do" else
+                 any_of(*[in_turn(found[n], one(("num", n))) for n in numbers]))
+        return widened(in_turn(one(("ask",)), any_of(ended, broken)), function_moves(function))
+    read, read_broken, written, written_broken = rows.box(function.term, {})
+    every = [in_turn(one(("get",)), read_broken)]
+    for n in range(function.size):
+        every.append(in_turn(one(("get",)), read[n], one(("value", n))))
+        every.append(in_turn(one(("set", n)), any_of(in_turn(written[n], one(("kept",))), written_broken[n])))
+    return widened(any_of(*every), function_moves(function))
+
+
+class Over:
+    """What stands for a function as a piece: its parameters are names."""
+
+    def __init__(self, function):
+        self.size = function.size
+        self.names = {**function.names, **{word: ((), plain) for word, plain in function.params}}
+
+
+def random_function(rng, size, sort, names, depth=4, claims=True, params=("p", "q", "r")):
+    """A function of this sort, with some of these names, at most four, that are no parameters."""
+    told = tuple(zip(params, sort[0]))
+    free = [word for word in sorted(names) if word not in [param for param, _ in told]]
+    own = {word: names[word] for word in rng.sample(free, rng.randint(0, min(4, len(free))))}
+    while True:
+        term = random_term(rng, size, {**own, **{word: ((), plain) for word, plain in told}}, sort[1], depth, claims)
+        if count_nodes(term) <= 60 and depth_of(term) <= 12:
+            return Function(size, own, told, term)
 
 
 class Waits(Exception):

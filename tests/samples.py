@@ -2,6 +2,8 @@
 
 import random
 
+from playsalike.pieces import made_piece
+
 NUM = ((), "num")
 DO = ((), "do")
 BOX = ((), "box")
@@ -28,6 +30,14 @@ SKIP = ("skip",)
 
 def some(seed):
     return random.Random(seed)
+
+
+def too_great(names, last=SKIP):
+    """A deed over x and other names whose machine has more than 2000 states: it looks 1000 times at x."""
+    term = last
+    for _ in range(1000):
+        term = ("then", ("if", name("x"), SKIP, SKIP), term)
+    return made_piece(2, names, term, "do")
 
 
 WORDS = ("a", "b", "c", "x", "y", "it", "zz")

@@ -6,9 +6,9 @@ from meanings import random_names, random_piece
 from playsalike.alike import less, same
 from playsalike.arounds import Around, ended_around
 from playsalike.errors import BadPiece, TooMany
-from playsalike.pieces import Function, Piece, made_piece, put
+from playsalike.pieces import Function, Piece, put
 from playsalike.plays import machine_of, plays_up_to
-from samples import BOX, DO, NUM, ODD_VALUES, SKIP, name, number, some
+from samples import BOX, DO, NUM, ODD_VALUES, SKIP, name, number, some, too_great
 
 X, GO, V = name("x"), name("go"), name("v")
 FALSE = ("claim", number(0))
@@ -144,11 +144,7 @@ class Alike(unittest.TestCase):
                     self.assertEqual(caught.exception.part, "kind")
 
     def test_too_many_states(self):
-        looks = ("if", X, SKIP, SKIP)
-        term = looks
-        for _ in range(1100):
-            term = ("then", looks, term)
-        great = made_piece(2, {"x": NUM}, term, "do")
+        great = too_great({"x": NUM})
         small = Piece(2, {"x": NUM}, SKIP)
         for call in (same, less):
             for pair in ((great, small), (small, great)):

@@ -2,25 +2,11 @@
 
 import unittest
 
+from libraries import INC, TWICE, UNARY, fun, use
 from playsalike.books import Book, open_names, uses
 from playsalike.errors import BadBook, BadNumber, BadWord
 from playsalike.pieces import Function, Piece, put
 from samples import BOX, DO, NUM, ODD_VALUES, SKIP, name, number, some
-
-UNARY = (("num",), "num")
-
-
-def fun(term, names=None, params=(), size=2):
-    return Function(size, names or {}, params, term)
-
-
-def use(*words):
-    """A function of sort num that has these numbers as names."""
-    return fun(number(0), {word: NUM for word in words})
-
-
-INC = fun(("sum", name("p"), number(1)), {}, (("p", "num"),))
-TWICE = fun(name("inc", name("inc", number(1))), {"inc": UNARY})
 
 
 class Books(unittest.TestCase):

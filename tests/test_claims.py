@@ -6,10 +6,10 @@ from meanings import random_piece
 from playsalike.claims import claims_in, is_safe, least_break
 from playsalike.errors import BadPiece, TooMany
 from playsalike.outcomes import outcome
-from playsalike.pieces import Function, Piece, made_piece, put_in
+from playsalike.pieces import Function, Piece, put_in
 from playsalike.places import part_at, places
 from playsalike.plays import plays_up_to
-from samples import BOX, DO, NUM, ODD_VALUES, SKIP, name, number, some
+from samples import BOX, DO, NUM, ODD_VALUES, SKIP, name, number, some, too_great
 
 ASK, BREAK = ("ask",), ("break",)
 X, B = name("x"), name("b")
@@ -94,10 +94,7 @@ class Claims(unittest.TestCase):
                 with self.assertRaises(BadPiece) as caught:
                     call(thing)
                 self.assertIsNone(caught.exception.part)
-        term = ("claim", X)
-        for _ in range(1000):
-            term = ("then", ("if", X, SKIP, SKIP), term)
-        great = made_piece(2, {"x": NUM, "v": BOX}, term, "do")
+        great = too_great({"x": NUM, "v": BOX}, ("claim", X))
         self.assertEqual(len(claims_in(great)), 1)
         for call in (least_break, is_safe):
             with self.assertRaises(TooMany) as caught:

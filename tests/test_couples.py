@@ -2,7 +2,7 @@
 
 import unittest
 
-from meanings import SORTS, random_names, random_piece
+from meanings import SORTS, random_function, random_names, random_piece
 from playsalike.couples import Couple
 from playsalike.errors import BadGivings, BadMove, BadPiece, TooMany
 from playsalike.evaluating import evaluated
@@ -11,24 +11,13 @@ from playsalike.outcomes import outcome
 from playsalike.pieces import Function, Piece, made_piece, put
 from playsalike.programs import programmed, whole_piece
 from samples import (BOX, DO, NUM, ODD_VALUES, SKIP, count_nodes, depth_of, leveled, name, number, put_by_tags,
-                     random_term, some)
+                     some)
 
 ASK = ("ask",)
 X, B, P = name("x"), name("b"), name("p")
 F = {"f": (("num",), "num")}
 PIECE = Piece(2, F, ("sum", name("f", number(1)), number(1)))
 TWICE = Function(2, {}, (("p", "num"),), ("sum", P, P))
-
-
-def function(rng, size, sort, names, claims=True):
-    """A function of this sort, with some of these names."""
-    params = tuple((word, plain) for word, plain in zip(("p", "q", "r"), sort[0]))
-    own = {word: names[word] for word in rng.sample(sorted(names), rng.randint(0, len(names)))}
-    while True:
-        term = random_term(rng, size, {**own, **{word: ((), plain) for word, plain in params}}, sort[1],
-                           rng.choice((2, 3, 4)), claims)
-        if count_nodes(term) <= 60 and depth_of(term) <= 12:
-            return Function(size, own, params, term)
 
 
 def random_givings(rng, piece, names):
@@ -38,7 +27,7 @@ def random_givings(rng, piece, names):
         if piece.names[word] == BOX and rng.random() < 0.5:
             given[word] = rng.randrange(piece.size)
         else:
-            given[word] = function(rng, piece.size, piece.names[word], names)
+            given[word] = random_function(rng, piece.size, piece.names[word], names, rng.choice((2, 3, 4)))
     return given
 
 
@@ -255,7 +244,7 @@ class Programs(unittest.TestCase):
             names = random_names(rng, 3, SORTS)
             piece = random_piece(rng, rng.choice((4, 5, 6)), names=names, nodes=3)
             givings = {word: rng.randrange(piece.size) if sort == BOX and rng.random() < 0.6 else
-                       function(rng, piece.size, sort, {}) for word, sort in names.items()}
+                       random_function(rng, piece.size, sort, {}, rng.choice((2, 3, 4))) for word, sort in names.items()}
             ended = programmed(piece, givings)
             try:
                 whole = whole_piece(piece, givings)

@@ -2,23 +2,15 @@
 
 import unittest
 
+from libraries import INC, TWICE, UNARY, fun
 from playsalike.books import Book, open_names
 from playsalike.errors import BadBook, BadWord, TooMany
 from playsalike.evaluating import evaluated
 from playsalike.links import linked, open_piece
 from playsalike.pieces import Function, Piece, function_of, put
-from samples import BOX, DO, NUM, ODD_VALUES, SKIP, count_nodes, leveled, name, number, put_by_tags
+from samples import BOX, DO, NUM, ODD_VALUES, count_nodes, leveled, name, number, put_by_tags
 from samples import random_term, some
 
-UNARY = (("num",), "num")
-
-
-def fun(term, names=None, params=(), size=2):
-    return Function(size, names or {}, params, term)
-
-
-INC = fun(("sum", name("p"), number(1)), {}, (("p", "num"),))
-TWICE = fun(name("inc", name("inc", number(1))), {"inc": UNARY})
 BOOK = Book(2, (("inc", INC), ("twice", TWICE)))
 
 
