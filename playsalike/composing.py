@@ -23,6 +23,10 @@ class Reciter:
         self.tables = tables
         self.state = 0
 
+    def can_hear(self):
+        """The moves that can come."""
+        return list(self.tables[self.state])
+
     def hear(self, move):
         """The move that is told behind this one, None if no play goes on so."""
         found = self.tables[self.state].get(move)
@@ -61,7 +65,7 @@ def composed(piece, word, function):
     while len(waiting) > 0:
         state, coupling = waiting.pop()
         goals = []
-        for move in coupling.speaker().tables[coupling.speaker().state]:
+        for move in coupling.speaker().can_hear():
             other = coupling.twin()
             told = other.hear(move)
             if told is not None:

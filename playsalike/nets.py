@@ -4,12 +4,11 @@ from playsalike.errors import TooMany
 from playsalike.letters import number_of_letters
 from playsalike.machines import MOST_STATES, least_machine
 from playsalike.outlooks import Outlook, boxes_key, standing_key
-from playsalike.players import (awaited_behind, first_moves, is_asked, move_told, moves_awaited,
-                                place_heard)
+from playsalike.players import awaited_behind, begun_by, first_moves, move_told, moves_awaited
 from playsalike.working import Work, go_on
 
 # Beyond 20000 unlike pairs of a place and what new boxes keep TooMany may be raised.
-MOST_PAIRS = 60000
+MOST_PAIRS = 100000
 
 # What awaits is told by in keys; a loop that is to be gone through awaits nothing.
 AWAITED = {"loop": 0, "call": 1, "get": 2, "set": 3}
@@ -94,8 +93,7 @@ def _heard(net, stand, move):
     """The state behind a move that is heard, None if nothing is told any more."""
     node, awaits, kept = stand
     work = Work(net.size, net.plan, dict(kept), None)
-    start, worth = place_heard(net.plan, node, awaits, move)
-    deed = "begin" if awaits is None or is_asked(move) else "done"
+    deed, start, worth = begun_by(net.plan, node, awaits, move)
     found = go_on(work, deed, start, worth)
     passed = []
     while found[0] == "loop":

@@ -30,8 +30,7 @@ class Player:
 
     def hear(self, move):
         """Goes on behind a move that can come: the move that is told then, None if it is lost."""
-        node, worth = place_heard(self.work.plan, self.node, self.awaits, move)
-        deed = "begin" if self.awaits is None or is_asked(move) else "done"
+        deed, node, worth = begun_by(self.work.plan, self.node, self.awaits, move)
         found = gone_through(self.work, go_on(self.work, deed, node, worth))
         self.word = word_of(found)
         self.node = found[1]
@@ -100,18 +99,13 @@ def moves_awaited(work, node, awaits):
     return moves
 
 
-def is_asked(move):
-    """Whether a move that is heard is a question."""
-    return move[0] in ("ask", "get", "set")
-
-
-def place_heard(plan, node, awaits, move):
-    """The node that a move which is heard is about, and the number that it brings, None if none."""
+def begun_by(plan, node, awaits, move):
+    """With what a term goes on if this move is heard where the node awaits something."""
     if awaits is None:
-        return 0, move[1] if move[0] == "set" else None
-    if is_asked(move):
-        return plan.parts[node][move[2]], move[3] if move[0] == "set" else None
-    return node, move[2] if move[0] in ("num", "value") else None
+        return ("begin", 0, move[1] if move[0] == "set" else None)
+    if move[0] in ("ask", "get", "set"):
+        return ("begin", plan.parts[node][move[2]], move[3] if move[0] == "set" else None)
+    return ("done", node, move[2] if move[0] in ("num", "value") else None)
 
 
 def word_of(found):

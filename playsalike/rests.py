@@ -35,12 +35,11 @@ def rest(machine, row):
 
 def _begun_at(machine, state):
     """The ways and ends of the machine with the numbers of this state and of state 0 exchanged."""
-    def number(old):
-        return {0: state, state: 0}.get(old, old)
-
-    order = [number(at) for at in range(len(machine.ways))]
-    ways = [[(k, number(goal)) for k, goal in machine.ways[at]] for at in order]
-    return ways, [number(end) for end in machine.ends]
+    numbers = list(range(len(machine.ways)))
+    numbers[0] = state
+    numbers[state] = 0
+    ways = [[(k, numbers[goal]) for k, goal in machine.ways[at]] for at in numbers]
+    return ways, [numbers[end] for end in machine.ends]
 
 
 def beginnings(machine):

@@ -108,6 +108,9 @@ class Countings(unittest.TestCase):
         with self.assertRaises(TooMany) as caught:
             all_plays(piece, 22)
         self.assertEqual(caught.exception.most, 2000)
+        just = Piece(4, {"v": BOX, "w": BOX, "x": NUM}, number(0))
+        self.assertEqual(count_plays(just, 6), (1600, 400))
+        self.assertEqual(len(all_plays(just, 6)), 2000)
         rows = all_plays(Piece(4, {"v": BOX}, number(0)), 6)
         self.assertEqual(len(rows), 5 * 64)
         every = moves_of(Piece(4, {"v": BOX}, number(0)))

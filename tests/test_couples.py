@@ -16,6 +16,7 @@ from samples import (BOX, DO, NUM, ODD_VALUES, SKIP, count_nodes, depth_of, leve
 ASK = ("ask",)
 X, B, P = name("x"), name("b"), name("p")
 F = {"f": (("num",), "num")}
+P_NUM = (("p", "num"),)
 PIECE = Piece(2, F, ("sum", name("f", number(1)), number(1)))
 TWICE = Function(2, {}, (("p", "num"),), ("sum", P, P))
 
@@ -103,6 +104,16 @@ class Couples(unittest.TestCase):
             heard += 1
             told = couple.hear(("num", "x", 0))
         self.assertEqual((told, heard), (("num", 8 % 3), 7))
+
+    def test_unlike_functions_that_are_asked_within_one_another(self):
+        piece = Piece(3, {**F, "g": (("do",), "num")}, name("f", name("g", ("claim", name("f", number(1))))))
+        first = Function(3, {"x": NUM}, P_NUM, ("sum", P, X))
+        second = Function(3, {"y": NUM}, (("q", "do"),), ("then", name("q"), name("y")))
+        couple = Couple(piece, {"f": first, "g": second})
+        house = House(together(piece, {"f": first, "g": second}))
+        for move in (ASK, ("num", "x", 1), ("num", "y", 2), ("num", "x", 2)):
+            self.assertEqual(couple.hear(move), house.hear(move))
+        self.assertEqual((couple.word, couple.moves[-1]), ("ended", ("num", 1)))
 
     def test_names_of_functions_that_are_names_of_the_piece_and_parameters_of_others(self):
         names = {**F, "x": NUM, "g": (("num",), "num")}
@@ -234,6 +245,7 @@ class Programs(unittest.TestCase):
         self.assertEqual(programmed(piece, {"v": 1, "a": 0, "f": TWICE}), ("do", 0, 12))
         whole = whole_piece(piece, {"v": 1, "a": 0, "f": TWICE})
         self.assertEqual((whole.names, whole.kind, whole.size), ({}, "do", 2))
+        self.assertEqual(whole, whole_piece(piece, {"f": TWICE, "a": 0, "v": 1}))
         got = ("get", name("v"))
         self.assertEqual(leveled(whole.term), leveled(("new", "a", 0, ("new", "v", 1, ("set", name("a"), ("sum", got, got))))))
 

@@ -6,7 +6,7 @@ from meanings import plays_by_player, random_piece
 from playsalike.driving import driven, house_plays
 from playsalike.errors import BadDigits, BadNumber, BadPiece, TooMany
 from playsalike.houses import House
-from playsalike.pieces import Function, Piece
+from playsalike.pieces import Function, Piece, made_piece
 from playsalike.plays import plays_up_to
 from samples import DO, NUM, ODD_VALUES, SKIP, name, number, some
 
@@ -19,6 +19,17 @@ def chained(term, many):
     if many == 1:
         return term
     return ("then", chained(term, many // 2), chained(term, many - many // 2))
+
+
+def tried(hearings):
+    """A deed of just so many hearings: of x (each one of four numbers) and of go."""
+    if hearings < 4:
+        return ("then", name("go"), tried(hearings - 1)) if hearings else SKIP
+    each = [(hearings - 4 + n) // 4 for n in range(4)]
+    term = tried(each[0])
+    for n in (1, 2, 3):
+        term = ("if", ("same", ("get", name("b")), number(n)), tried(each[n]), term)
+    return ("new", "b", 0, ("then", ("set", name("b"), X), term))
 
 
 class Driving(unittest.TestCase):
@@ -86,6 +97,20 @@ class HousePlays(unittest.TestCase):
             house_plays(looks, 24)
         self.assertEqual(caught.exception.most, 2000)
         self.assertEqual(len(house_plays(Piece(2, {"x": NUM}, chained(("if", X, SKIP, SKIP), 10)), 40)), 1024)
+
+    def test_just_as_many_plays_and_hearings_as_are_let(self):
+        five = ("if", X, SKIP, ("if", X, SKIP, SKIP))
+        two = ("if", ("same", X, number(2)), ("never", "do"), SKIP)
+        term = ("then", ("then", ("then", five, five), ("then", five, two)), ("then", ("then", two, two), two))
+        self.assertEqual(len(house_plays(Piece(3, {"x": NUM}, term), 40)), 2000)
+        names = {"x": NUM, "go": DO}
+        for hearings, is_let in ((19999, True), (20000, False)):
+            piece = made_piece(4, names, ("then", tried(hearings), ("never", "do")), "do")
+            if is_let:
+                self.assertEqual(house_plays(piece, 40), [])
+            else:
+                with self.assertRaises(TooMany):
+                    house_plays(piece, 40)
 
     def test_more_hearings_than_are_let(self):
         # One hearing, and then each time four times as many: 5461 up to 14 moves, 21845 up to 16.

@@ -18,7 +18,7 @@ from playsalike.playing import is_begun, is_play
 from playsalike.plays import (asked_names, has_play, how_many_plays, least_play, machine_of, may_hear, plays_up_to,
                               reply)
 from playsalike.rests import beginnings
-from samples import BOX, DO, NUM, ODD_VALUES, SKIP, count_nodes, name, number, random_term, some
+from samples import BOX, DO, NUM, ODD_VALUES, SKIP, count_nodes, name, number, random_term, some, too_great
 
 ASK = ("ask",)
 V, X, GO = name("v"), name("x"), name("go")
@@ -179,6 +179,55 @@ class Machines(unittest.TestCase):
         mixed = ("not", ("below", X, ("less", X, ("same", X, ("sum", X, ("not", ("sum", X, ("less", X, X))))))))
         piece = Piece(3, {"x": NUM}, ("if", mixed, ("claim", mixed), SKIP))
         self.check(piece, machine_of(piece))
+
+    def test_numbers_that_wait_for_others(self):
+        names = {"x": NUM, "f": (("num", "num"), "num"), "g": (("do",), "num"), "go": DO}
+        inner = ("sum", X, ("same", X, X))
+        for term in (("set", V, inner), ("set", ("made", number(0), "w", ("set", V, name("w"))), inner)):
+            for size in (3, 4):
+                piece = Piece(size, {"x": NUM, "v": BOX}, term)
+                self.check(piece, machine_of(piece))
+        y = ("if", ("not", X), number(2), X)
+        for term in (("sum", X, name("f", number(0), ("sum", X, X))), ("sum", X, ("same", X, X)),
+                     ("less", X, name("g", ("if", ("sum", X, X), GO, SKIP))), ("below", X, ("less", X, y)),
+                     ("sum", X, ("then", ("claim", ("sum", X, X)), X)), ("same", X, ("if", ("same", X, X), X, y)),
+                     name("f", inner, number(0)),
+                     ("sum", X, name("f", ("sum", X, y), name("f", ("below", X, X), X)))):
+            for size in (3, 4):
+                piece = Piece(size, names, term)
+                self.check(piece, machine_of(piece))
+
+    def test_what_boxes_keep_while_something_waits(self):
+        # Each time b is set to what x tells, go waits then, and b is read in a part to come alone.
+        b = name("b")
+        sets = ("then", ("set", b, X), GO)
+        got = ("get", b)
+        f = {"f": (("box", "do", "num"), "do"), "g": (("num", "do"), "num")}
+        for term in (
+                ("then", sets, got), ("while", ("not", got), sets), ("while", ("then", sets, X), ("claim", got)),
+                ("if", ("then", sets, X), got, number(0)), ("if", ("then", sets, X), number(0), got),
+                ("sum", ("then", sets, X), got), ("sum", ("then", sets, number(0)), ("not", got)),
+                ("set", ("made", number(0), "w", ("claim", ("same", got, name("w")))), ("then", sets, X)),
+                name("f", b, sets, number(0)), name("f", ("made", got, "w", SKIP), sets, number(0)),
+                name("f", ("made", ("then", sets, number(0)), "w", SKIP), SKIP, got),
+                name("f", ("made", number(0), "w", sets), SKIP, got), name("g", got, sets),
+                ("set", ("made", number(0), "w", ("then", GO, ("claim", name("w")))), X),
+                ("set", ("made", number(0), "w", ("while", X, ("claim", name("w")))), X),
+                ("set", ("made", number(0), "w", name("f", ("made", name("w"), "u", SKIP), GO, number(0))), X),
+                ("set", ("made", number(0), "w", name("f", b, ("claim", name("w")), X)), X),
+                ("then", ("new", "c", 0, ("then", ("set", name("c"), X), ("then", GO, ("set", b, ("get", name("c")))))), got),
+                ("while", X, ("while", ("then", GO, ("not", got)), ("set", b, X))),
+                ("while", X, ("then", ("claim", ("not", got)), ("set", b, ("then", GO, X))))):
+            piece = Piece(2, {"x": NUM, "go": DO, **f}, ("new", "b", 0, term))
+            self.check(piece, machine_of(piece))
+
+    def test_numbers_by_chance(self):
+        rng = some(323)
+        for _ in range(60):
+            names = {"x": NUM, "f": (("num", "num"), "num")}
+            piece = random_piece(rng, rng.choice((4, 5)), names=names, size=rng.choice((3, 4)), kind="num", nodes=9)
+            if count_nodes(piece.term) < 22:
+                self.check(piece, machine_of(piece))
 
     def test_numbers_written_within_one_another(self):
         def made(word, inner):
@@ -344,7 +393,13 @@ class Asked(unittest.TestCase):
             with self.assertRaises(BadNumber) as caught:
                 how_many_plays(Piece(2, {}, SKIP), length)
             self.assertEqual(caught.exception.part, "length")
+            with self.assertRaises(BadNumber):
+                how_many_plays(too_great({"x": NUM}), length)
+            with self.assertRaises(BadNumber):
+                plays_up_to(too_great({"x": NUM}), length)
         self.assertEqual(plays_up_to(Piece(2, {}, SKIP), 100), [[ASK, ("do",)]])
+        self.assertEqual(plays_up_to(Piece(2, {}, SKIP), 0), [])
+        self.assertEqual(how_many_plays(Piece(2, {}, SKIP), 0), 0)
 
 
 class Wholes(unittest.TestCase):
