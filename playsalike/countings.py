@@ -46,8 +46,8 @@ class Counts:
         return 2 * self.size if plain == "box" else self.answers_of(plain)
 
     def _count(self, length):
-        for at, talk in enumerate(self.talks):
-            talk.append(self._count_talk(self.exchanges[at], talk, length))
+        self.talks = [talk + [self._count_talk(exchanges, talk, length)]
+                      for exchanges, talk in zip(self.exchanges, self.talks)]
         self.middles.append(self._count_middles(length))
         self.broken.append(self._count_broken(length))
 

@@ -107,9 +107,9 @@ def _heard(net, stand, move):
     return _settled(net, passed, _telling(net, work, found))
 
 
-def _settled(net, loops, goal):
-    """Notes what these loops have led to, and tells it."""
-    for key in loops:
+def _settled(net, passed, goal):
+    """Notes what the loops with these keys have led to, and tells it."""
+    for key in passed:
         net.loops[key] = goal
     return goal
 
