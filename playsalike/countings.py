@@ -3,7 +3,6 @@
 from playsalike.errors import BadNumber, TooMany
 from playsalike.heardmoves import heard_moves, told_moves
 from playsalike.kinds import is_within
-from playsalike.letters import in_order
 from playsalike.pieces import check_piece
 from playsalike.playing import BREAK, FIRST, can_follow, waits_behind
 
@@ -26,14 +25,14 @@ class Counts:
         self.broken = []
         called = [sort for sort in piece.names.values() if sort[1] != "box"]
         self.boxes = len(piece.names) - len(called)
-        self.answered = [self.answers_of(given) for taken, given in called]
+        self.answered = [self.many_answers(given) for taken, given in called]
         self.asked = [sum([self.questions(sort) for sort in taken]) for taken, given in called]
         self.exchanges = [sum([self.both_ways(sort) for sort in taken]) for taken, given in called]
         self.talks = [[] for sort in called]
         for length in range(most + 1):
             self._count(length)
 
-    def answers_of(self, plain):
+    def many_answers(self, plain):
         """How many answers there are of what has this plain sort."""
         return 1 if plain == "do" else self.size
 
@@ -43,7 +42,7 @@ class Counts:
 
     def both_ways(self, plain):
         """How many pairs of a question to an argument of this plain sort and its answer."""
-        return 2 * self.size if plain == "box" else self.answers_of(plain)
+        return 2 * self.size if plain == "box" else self.many_answers(plain)
 
     def _count(self, length):
         self.talks = [talk + [self._count_talk(exchanges, talk, length)]
@@ -90,7 +89,7 @@ def count_plays(piece, length):
     if length < 2:
         return (0, 0)
     counts = Counts(piece, length)
-    return (counts.answers_of(piece.kind) * counts.middles[length - 2], counts.broken[length - 1])
+    return (counts.many_answers(piece.kind) * counts.middles[length - 2], counts.broken[length - 1])
 
 
 def all_plays(piece, length):
@@ -100,7 +99,7 @@ def all_plays(piece, length):
         raise TooMany(MOST_PLAYS)
     if unbroken + broken == 0:
         return []
-    turns = (in_order(told_moves(piece)), in_order(heard_moves(piece)))
+    turns = (told_moves(piece), heard_moves(piece))
     begun = [([FIRST], [FIRST])]
     for left in reversed(range(length - 1)):
         begun = [(row + [move], waits_behind(waits, move)) for row, waits in begun

@@ -5,6 +5,7 @@ from playsalike.letters import number_of_letters
 from playsalike.machines import MOST_STATES, least_machine
 from playsalike.outlooks import Outlook, boxes_key, standing_key
 from playsalike.players import awaited_behind, begun_by, first_moves, move_told, moves_awaited
+from playsalike.playing import BREAK
 from playsalike.working import Work, go_on
 
 # Beyond 20000 unlike pairs of a place and what new boxes keep TooMany may be raised.
@@ -130,7 +131,7 @@ def _telling(net, work, found):
     move = move_told(net.plan, net.kind, found)
     if move is None:
         return None
-    if move == ("break",):
+    if move == BREAK:
         net.is_broken = True
     if found[0] in ("ended", "broken"):
         return net.states.telling(move, ENDED)

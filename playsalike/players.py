@@ -3,6 +3,7 @@
 from playsalike.heardmoves import answers_of, questions_to
 from playsalike.pieces import plan_of_function, plan_of_piece
 from playsalike.plans import place_of, uses_around
+from playsalike.playing import BREAK
 from playsalike.working import Work, go_on, gone_through
 
 
@@ -126,7 +127,7 @@ def move_told(plan, kind, found):
         return answer_told(plan.names[word][0][at], (word, at), number)
     if deed == "ended":
         return last_told(kind, worth)
-    return ("break",) if deed == "broken" else None
+    return BREAK if deed == "broken" else None
 
 
 def _question(word, names, worth):
