@@ -44,7 +44,8 @@ class Runs:
         waiting = [pair for pair, standing, last in self.ends if is_wanted(standing, last)]
         found = {pair: True for pair in waiting}
         while len(waiting) > 0:
-            for source in self.sources.get(waiting.pop(), []):
+            pair = waiting.pop()
+            for source in self.sources.get(pair, []):
                 if source not in found:
                     found[source] = True
                     waiting.append(source)
