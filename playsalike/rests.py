@@ -45,5 +45,5 @@ def _begun_at(machine, state):
 def beginnings(machine):
     """The machine of all rows with which rows that are taken begin, these too."""
     check_machine(machine)
-    ends = range(len(machine.ways)) if _takes_some(machine) else []
-    return least_machine(machine.letters, machine.ways, list(ends))
+    ends = list(range(len(machine.ways))) if _takes_some(machine) else []
+    return least_machine(machine.letters, machine.ways, ends)
