@@ -75,6 +75,16 @@ def _is_ending(size, names, ending):
     return sort == "do" and not has_claim(ending)
 
 
+def made_around(size, names, kind, boxes, functions, ending):
+    """The Around of right things, with however many boxes and however great terms."""
+    around = Around(size, {}, kind, (), {}, ("skip",))
+    around.names = ascending(names)
+    around.boxes = boxes
+    around.functions = ascending(functions)
+    around.ending = ending
+    return around
+
+
 def check_around(around):
     """Raises BadAround(None) unless around is an Around."""
     if not isinstance(around, Around):

@@ -3,8 +3,8 @@
 from playsalike.claims import claims_in, least_break
 from playsalike.errors import BadPlaces
 from playsalike.kinds import is_list, is_number
-from playsalike.pieces import check_measures, check_piece, made_piece
-from playsalike.shapes import measures, part_along, with_part_along
+from playsalike.pieces import check_piece, with_term, within_limits
+from playsalike.shapes import part_along, with_part_along
 
 
 def assumed(piece, places):
@@ -25,9 +25,7 @@ def _without_claims(piece, places, otherwise):
     for at in places:
         test = part_along(term, at)[1]
         term = with_part_along(term, at, ("if", test, ("skip",), otherwise))
-    nodes, depth = measures(term)
-    check_measures(nodes, depth)
-    return made_piece(piece.size, piece.names, term, piece.kind)
+    return within_limits(with_term(piece, term))
 
 
 def _check_places(piece, places):

@@ -74,14 +74,25 @@ class Net:
 
 def net_of(size, kind, plan, letters):
     """The net of all plays of the term of the plan, with these letters, in order."""
+    net = begun_net(size, kind, plan, letters)
+    while len(net.unheard) > 0:
+        heard_further(net)
+    return net
+
+
+def begun_net(size, kind, plan, letters):
+    """The net of the first moves of plays: what is heard behind them is still to be gone through."""
     net = Net(size, kind, plan, letters)
     _hear_all(net, BEGUN, (0, None, {}), first_moves(kind, size))
-    while len(net.unheard) > 0:
-        state, stand = net.unheard.pop()
-        node, awaits, kept = stand
-        moves = moves_awaited(Work(size, plan, kept, None), node, awaits)
-        _hear_all(net, state, stand, moves)
     return net
+
+
+def heard_further(net):
+    """The state of one that was still to be gone through: it hears all moves that can come."""
+    state, stand = net.unheard.pop()
+    node, awaits, kept = stand
+    _hear_all(net, state, stand, moves_awaited(Work(net.size, net.plan, kept, None), node, awaits))
+    return state
 
 
 def _hear_all(net, state, stand, moves):

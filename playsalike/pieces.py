@@ -4,7 +4,7 @@ from playsalike.errors import BadPiece, TooMany
 from playsalike.kinds import check_size, is_pair, is_word
 from playsalike.plans import Plan
 from playsalike.puttings import Body, measured, replaced
-from playsalike.shapes import free_words
+from playsalike.shapes import free_words, measures
 from playsalike.sorts import MOST_NAMES, ascending, check_names, is_plain
 from playsalike.terms import MOST_DEPTH, MOST_NODES, checked_sort
 
@@ -84,6 +84,18 @@ def made_piece(size, names, term, kind):
     piece.names = ascending(names)
     piece.term = term
     piece.kind = kind
+    return piece
+
+
+def with_term(piece, term):
+    """The Piece with another right term of its sort, however great this is."""
+    return made_piece(piece.size, piece.names, term, piece.kind)
+
+
+def within_limits(piece):
+    """The piece itself; TooMany if its term has too many nodes, or is too deep."""
+    nodes, depth = measures(piece.term)
+    check_measures(nodes, depth)
     return piece
 
 

@@ -2,9 +2,9 @@
 
 from playsalike.errors import BadPiece, BadPlace
 from playsalike.kinds import is_number
-from playsalike.pieces import check_measures, check_piece, made_piece
-from playsalike.shapes import (all_parts, measures, names_within, part_along, part_paths,
-                               parts_of, plain_sort, with_part_along)
+from playsalike.pieces import check_piece, with_term, within_limits
+from playsalike.shapes import (all_parts, names_within, part_along, part_paths, parts_of,
+                               plain_sort, with_part_along)
 from playsalike.sorts import ascending
 from playsalike.terms import checked_sort
 
@@ -36,10 +36,7 @@ def exchanged(piece, at, term):
     sort = checked_sort(piece.size, names, term)
     if sort != plain_sort(names, part_along(piece.term, at)):
         raise BadPiece("sort")
-    whole = with_part_along(piece.term, at, term)
-    nodes, depth = measures(whole)
-    check_measures(nodes, depth)
-    return made_piece(piece.size, piece.names, whole, piece.kind)
+    return within_limits(with_term(piece, with_part_along(piece.term, at, term)))
 
 
 def _numbers_along(piece, at):

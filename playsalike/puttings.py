@@ -3,8 +3,8 @@
 Terms may be nested deeper than calls can be: so what is still to do is kept in lists.
 """
 
-from playsalike.kinds import SIGNS
 from playsalike.shapes import given_word, parts_of, with_parts
+from playsalike.words import fresh_word
 
 
 class Measured:
@@ -116,7 +116,7 @@ def _within(word, part, table):
         return word, inner
     for name in part.free:
         barred[name] = True
-    fresh = _fresh_word(barred)
+    fresh = fresh_word(barred)
     inner[word] = Measured(("name", fresh, ()), [])
     return fresh, inner
 
@@ -125,19 +125,3 @@ def _with_given_word(term, word):
     if term[0] == "new":
         return ("new", word, term[2], term[3])
     return ("made", term[1], word, term[3])
-
-
-def _fresh_word(barred):
-    """The first of the words a, b, .. z, aa, ab, .. that is not barred."""
-    number = 0
-    while _word_of(number) in barred:
-        number += 1
-    return _word_of(number)
-
-
-def _word_of(number):
-    word = SIGNS[number % 26]
-    while number >= 26:
-        number = number // 26 - 1
-        word = SIGNS[number % 26] + word
-    return word

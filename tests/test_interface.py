@@ -57,6 +57,17 @@ CALLS = {
     "putclaims": ["safe_with(piece, word, function)", "always_breaks(piece, word)"],
     "boxlaws": ["after(piece, boxes, starts)", "breaks_from(piece, boxes, starts)"],
     "invariants": ["before(piece, boxes, wanted)", "least_kept(test, body, boxes, starts)"],
+    "playwrights": ["around_of(piece, play)"],
+    "rules": ["is_right(rule)"],
+    "rewriting": ["matched(rule, piece, at)", "rewritten(rule, piece, at)"],
+    "dead": ["unasked(piece)", "dead_places(piece)"],
+    "optimising": ["shortening(piece)", "optimised(piece)"],
+    "boxes": ["begins(piece, at)", "is_idle(piece, at)"],
+    "breakers": ["breaker(piece)", "ender(piece, number)"],
+    "scribes": ["fallen(scribe, kept)"],
+    "readings": ["read_apart(piece, other, digits)", "digits_apart(piece, other)"],
+    "questions": ["is_question(thing)", "answered(book, question)"],
+    "benches": ["is_deed(thing)"],
     "claims": ["claims_in(piece)", "least_break(piece)", "is_safe(piece)"],
     "places": ["places(piece)", "part_at(piece, at)", "names_at(piece, at)",
                "exchanged(piece, at, term)"],
@@ -68,11 +79,18 @@ CLASSES = {
     "machines": ["Machine(letters, ways, ends)"],
     "houses": ["House(piece)"],
     "couples": ["Couple(piece, givings)"],
+    "rules": ["Rule(left, right)"],
+    "scribes": ["Scribe(piece, thing)"],
+    "benches": ["Bench(book)"],
 }
 METHODS = {
     ("houses", "House"): ["can_hear(self)", "hear(self, move)", "twin(self)", "steps(self)", "spots(self)",
                           "boxes(self)"],
     ("couples", "Couple"): ["can_hear(self)", "hear(self, move)", "twin(self)", "passed(self)"],
+    ("scribes", "Scribe"): ["hear(self, move)", "tell(self)"],
+    ("benches", "Bench"): ["do(self, deed)", "undo(self)", "redo(self)", "questions(self)", "answers(self)",
+                           "versions(self, word)", "deeds(self)", "undone(self)", "what_if(self, deed)",
+                           "since(self, number)"],
 }
 FOLDER = Path(playsalike.__file__).parent
 
