@@ -23,12 +23,12 @@ class Stand:
         self.functions = functions
 
 
-def _first_stand(book):
+def first_stand(book):
     """What stands ahead of all deeds."""
     return Stand(book, {}, 0, {word: [function] for word, function in book.entries})
 
 
-def _stand_behind(stand, deed):
+def stand_behind(stand, deed):
     """What stands behind a deed; NotLet if it cannot be done."""
     if deed[0] == "ask":
         asked = {**stand.asked, stand.many: deed[1]}
@@ -71,7 +71,8 @@ def is_deed(thing):
     return is_word(thing[1]) and is_within(thing[2], 0, MOST_NUMBER)
 
 
-def _check_deed(deed):
+def check_deed(deed):
+    """Raises BadDeed unless deed is a deed."""
     if not is_deed(deed):
         raise BadDeed("no deed")
 
@@ -83,7 +84,7 @@ class Bench:
         check_book(book)
         self.first = book
         self.book = book
-        self._stands = [_first_stand(book)]
+        self._stands = [first_stand(book)]
         self._done = []
         self._taken_back = []
 
@@ -97,10 +98,16 @@ class Bench:
         self._taken_back = taken_back
         self.book = stands[-1].book
 
+    def twin(self):
+        """A bench of its own that has come as far."""
+        other = Bench(self.first)
+        other._go_to(self._stands, self._done, self._taken_back)
+        return other
+
     def do(self, deed):
         """Does a deed; what was taken back is dropped."""
-        _check_deed(deed)
-        stand = _stand_behind(self._stands[-1], deed)
+        check_deed(deed)
+        stand = stand_behind(self._stands[-1], deed)
         self._go_to(self._stands + [stand], self._done + [deed], [])
 
     def undo(self):
@@ -114,7 +121,7 @@ class Bench:
         if len(self._taken_back) == 0:
             raise NotLet("redo")
         deed = self._taken_back[0]
-        stand = _stand_behind(self._stands[-1], deed)
+        stand = stand_behind(self._stands[-1], deed)
         self._go_to(self._stands + [stand], self._done + [deed], self._taken_back[1:])
 
     def questions(self):
@@ -139,9 +146,9 @@ class Bench:
 
     def what_if(self, deed):
         """What a deed would change: the pair of entries that compare unlike, and of unlike answers."""
-        _check_deed(deed)
+        check_deed(deed)
         stand = self._stands[-1]
-        behind = _stand_behind(stand, deed)
+        behind = stand_behind(stand, deed)
         changes = compared(stand.book, behind.book)
         answers = []
         for number, question in stand.asked.items():

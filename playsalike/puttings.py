@@ -3,7 +3,7 @@
 Terms may be nested deeper than calls can be: so what is still to do is kept in lists.
 """
 
-from playsalike.shapes import given_word, parts_of, with_parts
+from playsalike.shapes import given_word, parts_of, with_given_word, with_parts
 from playsalike.words import fresh_word
 
 
@@ -92,7 +92,7 @@ def _enter(jobs, done, node, table):
         jobs.append(("leave", term, len(parts)))
     else:
         word, tables[-1] = _within(word, parts[-1], table)
-        jobs.append(("leave", _with_given_word(term, word), len(parts)))
+        jobs.append(("leave", with_given_word(term, word), len(parts)))
     for at in reversed(range(len(parts))):
         jobs.append(("enter", parts[at], tables[at]))
 
@@ -119,9 +119,3 @@ def _within(word, part, table):
     fresh = fresh_word(barred)
     inner[word] = Measured(("name", fresh, ()), [])
     return fresh, inner
-
-
-def _with_given_word(term, word):
-    if term[0] == "new":
-        return ("new", word, term[2], term[3])
-    return ("made", term[1], word, term[3])

@@ -19,6 +19,7 @@ class Script:
     def __init__(self, piece, play):
         self.size = piece.size
         self.names = piece.names
+        self.kind = piece.kind
         self.heard = list(play[::2])
         self.told = list(play[1::2])
         self.asked = []

@@ -92,6 +92,13 @@ def given_word(term, number):
     return None
 
 
+def with_given_word(term, word):
+    """The "new" or "made" term with another word that it gives, its parts as they are."""
+    if term[0] == "new":
+        return ("new", word, term[2], term[3])
+    return ("made", term[1], word, term[3])
+
+
 def names_within(names, term, number):
     """What words mean within the part of this number, if names tell what they mean outside."""
     word = given_word(term, number)
@@ -170,13 +177,18 @@ def has_claim(term):
 
 def free_words(term):
     """The ascending list of the words that stand free in a term."""
+    return sorted(free_counts(term))
+
+
+def free_counts(term):
+    """The dict from the words that stand free in a term to how often they do."""
     found = {}
     waiting = [(term, {})]
     while waiting:
         part, given = waiting.pop()
         if part[0] == "name" and part[1] not in given:
-            found[part[1]] = True
+            found[part[1]] = found.get(part[1], 0) + 1
         for number, inner in enumerate(parts_of(part)):
             word = given_word(part, number)
             waiting.append((inner, given if word is None else {**given, word: True}))
-    return sorted(found)
+    return found

@@ -1,5 +1,7 @@
 """A second plain way to programs around pieces: names are worked out where they were given, nothing is put in."""
 
+import sys
+
 from playsalike.heardmoves import heard_moves, told_moves
 from playsalike.playing import ANSWERS, can_follow, waits_behind
 from samples import TWOS, Broken, Spent
@@ -32,6 +34,8 @@ class Surrounded:
 
     def told(self):
         """How it ends: do, broken, never (it came to a never), or on; and the nodes."""
+        limit = sys.getrecursionlimit()
+        sys.setrecursionlimit(20000)
         try:
             self.of(self.ending, self.env, True)
         except Broken:
@@ -40,6 +44,8 @@ class Surrounded:
             return "never", self.own
         except Spent:
             return "on", self.own
+        finally:
+            sys.setrecursionlimit(limit)
         return "do", self.own
 
     def step(self, own):
