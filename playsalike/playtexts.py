@@ -11,30 +11,20 @@ class MoveStanding:
     """What stands behind some tokens of a begun play: its moves, and the things of the one begun.
 
     turns are the moves that can be heard and those that can be told; waits are the questions that
-    wait behind the moves; can_come tells which moves can come, things being their beginnings.
+    wait ahead of the move that is begun, coming are the moves that this may be.
     """
 
-    def __init__(self, turns, moves, waits, things):
+    def __init__(self, turns, moves, waits, things, coming):
         self.turns = turns
         self.moves = moves
         self.waits = waits
         self.things = things
-
-    def can_come(self):
-        """The list of the moves that can come and begin with the things."""
-        if len(self.moves) == 0:
-            moves = [FIRST]
-        elif self.moves[-1] == BREAK:
-            moves = []
-        else:
-            moves = [move for move in self.turns[len(self.moves) % 2] if can_follow(self.waits, move)]
-        many = len(self.things)
-        return [move for move in moves if move[:many] == self.things]
+        self.coming = coming
 
     def next_things(self):
-        """The list of what can stand behind the things in moves that can come."""
+        """The list of what can stand behind the things in the moves that may come."""
         many = len(self.things)
-        return [move[many] for move in self.can_come() if len(move) > many]
+        return [move[many] for move in self.coming if len(move) > many]
 
     def can_begin(self, letters):
         """Whether some word that can come begins with these letters."""
@@ -49,25 +39,23 @@ class MoveStanding:
         return self._taken(figure)
 
     def _taken(self, thing):
-        if thing not in self.next_things():
+        things = self.things + (thing,)
+        coming = [move for move in self.coming if move[:len(things)] == things]
+        if len(coming) == 0:
             return None
-        return MoveStanding(self.turns, self.moves, self.waits, self.things + (thing,))
+        return MoveStanding(self.turns, self.moves, self.waits, things, coming)
 
     def take_sign(self, sign):
         """The standing behind the sign between moves, None if it cannot come."""
-        if sign != ";" or not self._is_move():
+        if sign != ";" or not self._is_move() or self.things == BREAK:
             return None
-        waits = self._waits_behind()
-        if len(waits) == 0 or self.things == BREAK:
-            return None
-        return MoveStanding(self.turns, self.moves + [self.things], waits, ())
+        moves = self.moves + [self.things]
+        waits = [FIRST] if len(moves) == 1 else waits_behind(self.waits, self.things)
+        coming = [move for move in self.turns[len(moves) % 2] if can_follow(waits, move)]
+        return MoveStanding(self.turns, moves, waits, (), coming) if len(coming) > 0 else None
 
     def _is_move(self):
-        return self.things in self.can_come()
-
-    def _waits_behind(self):
-        """The questions that wait behind the move that the things are."""
-        return [FIRST] if len(self.moves) == 0 else waits_behind(self.waits, self.things)
+        return self.things in self.coming
 
     def whole(self):
         """The list of the moves if a begun play ends here, None otherwise."""
@@ -76,7 +64,7 @@ class MoveStanding:
 
 def _start(piece):
     """What stands ahead of all begun plays of the piece."""
-    return MoveStanding((heard_moves(piece), told_moves(piece)), [], [], ())
+    return MoveStanding((heard_moves(piece), told_moves(piece)), [], [], (), [FIRST])
 
 
 def play_text(piece, row):

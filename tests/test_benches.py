@@ -2,74 +2,29 @@
 
 import unittest
 
-from libraries import INC, UNARY, changed_book, fun, random_book, random_sorts
+from libraries import INC, UNARY, fun, random_book, random_sorts
 from playsalike.benches import Bench, is_deed
 from playsalike.books import Book
 from playsalike.edits import compared, edited
 from playsalike.errors import BadBook, BadDeed, BadNumber, NotLet, PlayError, TooMany
 from playsalike.questions import answered
 from samples import NUM, ODD_VALUES, SKIP, name, number, some
-
-X = name("x")
-ONE, ZERO, NEVER = fun(number(1)), fun(number(0)), fun(("never", "num"))
-CALLS = fun(name("inc", number(1)), {"inc": UNARY})
-FIRST = Book(2, (("a", CALLS), ("b", ZERO), ("inc", INC)))
-SAME, ENDS = ("same", "a", "b"), ("ends", "a")
-SLOW = fun(("sum", name("p"), name("p")), {}, (("p", "num"),))
-
-
-def bench_of(*deeds, book=FIRST):
-    bench = Bench(book)
-    for deed in deeds:
-        bench.do(deed)
-    return bench
-
-
-class Model:
-    """A second way: all is worked out anew of the present deeds."""
-
-    def __init__(self, book):
-        self.first = book
-        self.deeds = []
-        self.undone = []
-
-    def state(self, deeds=None):
-        book, asked, count, versions = self.first, {}, 0, {word: [function] for word, function in self.first.entries}
-        for deed in self.deeds if deeds is None else deeds:
-            if deed[0] == "ask":
-                asked[count] = deed[1]
-                count += 1
-            elif deed[0] == "unask":
-                del asked[deed[1]]
-            elif deed[0] == "back":
-                book = edited(book, ("put", deed[1], versions[deed[1]][deed[2]]))
-            else:
-                book = edited(book, deed)
-                if deed[0] == "put":
-                    versions.setdefault(deed[1], []).append(deed[2])
-        return book, asked, versions
-
-    def why(self, deed):
-        """Why a deed cannot be done, None if it can."""
-        _, asked, versions = self.state()
-        if deed[0] == "unask" and deed[1] not in asked or deed[0] == "back" and deed[2] >= len(versions.get(deed[1], [])):
-            return "number"
-        try:
-            self.state(self.deeds + [deed])
-        except NotLet as error:
-            return error.why
-        return None
-
+from workbenches import CALLS, ENDS, FIRST, NEVER, ONE, SAME, SLOW, ZERO, Model, bench_of, random_deed
 
 class IsDeed(unittest.TestCase):
     def test_is_deed(self):
-        for thing in (("put", "a", ONE), ("drop", "a"), ("ask", SAME), ("ask", ENDS), ("unask", 0), ("unask", 10 ** 9), ("back", "a", 0),
+        for thing in (("put", "a", ONE), ("drop", "a"), ("ask", SAME), ("ask", ENDS), ("unask", 0), ("unask", 10 ** 9),
+                      ("back", "a", 0),
                       ("back", "zzz", 10 ** 9)):
             self.assertIs(is_deed(thing=thing), True)
-        for thing in ODD_VALUES + [("put", "a", number(1)), ("put", "A", ONE), ("drop", ""), ("drop", "a", 1), ["drop", "a"], ("ask",), ("ask", "a"),
-                                   ("ask", ("same", "a")), ("ask", SAME, SAME), ("ask", list(SAME)), ("unask", -1), ("unask", 10 ** 9 + 1),
-                                   ("unask", True), ("unask", "a"), ("unask",), ("back", "a"), ("back", "a", -1), ("back", "a", None), ("back", 0, 0),
-                                   ("back", "A", 0), ("back", "a", 10 ** 9 + 1), ("back", "a", False), ("undo",), (["ask"], SAME), ({}, "a"),
+        for thing in ODD_VALUES + [("put", "a", number(1)), ("put", "A", ONE), ("drop", ""), ("drop", "a", 1),
+                                   ["drop", "a"], ("ask",), ("ask", "a"),
+                                   ("ask", ("same", "a")), ("ask", SAME, SAME), ("ask", list(SAME)), ("unask", -1),
+                                   ("unask", 10 ** 9 + 1),
+                                   ("unask", True), ("unask", "a"), ("unask",), ("back", "a"), ("back", "a", -1),
+                                   ("back", "a", None), ("back", 0, 0),
+                                   ("back", "A", 0), ("back", "a", 10 ** 9 + 1), ("back", "a", False), ("undo",),
+                                   (["ask"], SAME), ({}, "a"),
                                    ("back", "a", 0, 0), ("unask", 0, 0), SAME, FIRST]:
             self.assertIs(is_deed(thing), False)
 
@@ -100,13 +55,15 @@ class Benches(unittest.TestCase):
         self.assertEqual(bench.book, Book(2, (("a", ONE), ("b", ZERO), ("new", NEVER))))
         self.assertEqual(bench.first, FIRST)
         self.assertEqual(bench.deeds(), [("put", "a", ONE), ("drop", "inc"), ("put", "new", NEVER)])
-        self.assertEqual((bench.versions("a"), bench.versions("inc"), bench.versions("new")), ([CALLS, ONE], [INC], [NEVER]))
+        self.assertEqual((bench.versions("a"), bench.versions("inc"), bench.versions("new")),
+                         ([CALLS, ONE], [INC], [NEVER]))
         self.refused(bench, ("drop", "inc"), "word")
         self.refused(bench, ("put", "a", fun(number(0), size=3)), "entries")
         self.refused(bench, ("put", "a", fun(name("a"), {"a": NUM})), "ring")
         self.refused(bench, ("put", "a", fun(name("b", number(0)), {"b": UNARY})), "sorts")
         self.refused(bench, ("put", "c", fun(number(0), {}, (("a", "num"),))), "params")
-        self.refused(bench, ("put", "c", fun(number(0), {"v": NUM, "w": NUM, "x": NUM, "b": NUM}, (("q", "num"),))), "many")
+        self.refused(bench, ("put", "c", fun(number(0), {"v": NUM, "w": NUM, "x": NUM, "b": NUM}, (("q", "num"),))),
+                     "many")
 
     def test_undo_and_redo(self):
         bench = bench_of(("put", "a", ONE), ("drop", "inc"))
@@ -119,7 +76,8 @@ class Benches(unittest.TestCase):
         self.assertEqual(caught.exception.why, "undo")
         self.assertEqual(bench.undone(), [("put", "a", ONE), ("drop", "inc")])
         self.assertIsNone(bench.redo())
-        self.assertEqual((bench.deeds(), bench.undone(), bench.versions("a")), ([("put", "a", ONE)], [("drop", "inc")], [CALLS, ONE]))
+        self.assertEqual((bench.deeds(), bench.undone(), bench.versions("a")), ([("put", "a", ONE)], [("drop", "inc")],
+                                                                                [CALLS, ONE]))
         bench.do(("put", "b", ONE))
         self.assertEqual(bench.undone(), [])
         with self.assertRaises(NotLet) as caught:
@@ -176,7 +134,8 @@ class Benches(unittest.TestCase):
         bench = bench_of(("ask", SAME), ("ask", ENDS), ("ask", ("holds", "a")))
         self.assertEqual(bench.what_if(deed=("put", "inc", SLOW)), ({"inc": "unlike"}, []))
         self.assertEqual(bench.what_if(("put", "b", ONE)), ({"b": "unlike"}, [(0, True, False)]))
-        self.assertEqual(bench.what_if(("put", "a", NEVER)), ({"a": "less"}, [(0, True, False), (1, ("num", 0), ("on", 0))]))
+        self.assertEqual(bench.what_if(("put", "a", NEVER)),
+                         ({"a": "less"}, [(0, True, False), (1, ("num", 0), ("on", 0))]))
         self.assertEqual(bench.what_if(("drop", "inc")),
                          ({"a": "other", "b": "other", "inc": "gone"}, [(0, True, False), (1, ("num", 0), "other")]))
         self.assertEqual(bench.what_if(("put", "c", ONE)), ({"c": "new"}, []))
@@ -218,7 +177,8 @@ class Benches(unittest.TestCase):
         bench.undo()
         for call in (bench.deeds, bench.undone, bench.questions, bench.answers, lambda: bench.versions("a")):
             call().append(None)
-        self.assertEqual((bench.deeds(), bench.undone(), bench.questions(), bench.versions("a")), ([("put", "a", ONE)], [("ask", SAME)], [], [CALLS, ONE]))
+        self.assertEqual((bench.deeds(), bench.undone(), bench.questions(), bench.versions("a")),
+                         ([("put", "a", ONE)], [("ask", SAME)], [], [CALLS, ONE]))
 
     def test_too_many_changes_nothing(self):
         wide = name("p")
@@ -265,7 +225,8 @@ class Benches(unittest.TestCase):
             self.assertEqual((new.book, new.questions(), new.first), (bench.book, bench.questions(), bench.first))
             self.assertEqual(new == bench, not model.undone)
             try:
-                self.assertEqual(bench.answers(), [(number_of, answered(bench.book, question)) for number_of, question in bench.questions()])
+                self.assertEqual(bench.answers(), [(number_of, answered(bench.book, question)) for number_of,
+                                                   question in bench.questions()])
                 for at in range(len(model.deeds) + 1):
                     self.assertEqual(bench.since(at), compared(model.state(model.deeds[:at])[0], bench.book))
             except TooMany:
@@ -283,7 +244,7 @@ class Benches(unittest.TestCase):
             model.deeds.append(model.undone.pop(0))
             seen["redo"] = seen.get("redo", 0) + 1
         elif way == "deed":
-            deed = self.deed(rng, model, sorts)
+            deed = random_deed(rng, model, sorts)
             why = model.why(deed)
             seen[why] = seen.get(why, 0) + 1
             if why is not None:
@@ -303,20 +264,6 @@ class Benches(unittest.TestCase):
             return
         unlike = [(at, now[at], then[at]) for at in sorted(now) if at in then and now[at] != then[at]]
         self.assertEqual(bench.what_if(deed), (changes, unlike))
-
-    def deed(self, rng, model, sorts):
-        word = rng.choice("abcd")
-        way = rng.choice(("put", "put", "drop", "ask", "ask", "unask", "back"))
-        if way == "put":
-            full = Book(2, model.first.entries)
-            return ("put", word, dict(changed_book(rng, full, sorts).entries).get(word, ONE))
-        if way == "drop":
-            return ("drop", word)
-        if way == "ask":
-            return ("ask", rng.choice([("same", word, "a"), ("less", "b", word), ("holds", word), ("ends", word)]))
-        if way == "unask":
-            return ("unask", rng.randint(0, 3))
-        return ("back", word, rng.randint(0, 2))
 
 
 if __name__ == "__main__":

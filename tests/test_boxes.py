@@ -9,6 +9,7 @@ from playsalike.errors import BadPiece, BadPlace, TooMany
 from playsalike.pieces import Piece, function_of, made_piece
 from playsalike.places import part_at, places
 from samples import BOX, DO, NUM, ODD_VALUES, SKIP, name, number, some, term_parts, too_great
+from termparts import changed
 
 X, V, GO, B = name("x"), name("v"), name("go"), name("b")
 NAMES = {"x": NUM, "v": BOX, "go": DO, "f": (("box", "do"), "num")}
@@ -20,18 +21,6 @@ def piece(term, names=None, size=2):
 
 def new(body, word="b", n=0):
     return ("new", word, n, body)
-
-
-def changed(term, at, change):
-    if not at:
-        return change(term)
-    things = list(term)
-    if term[0] == "name":
-        args = list(term[2])
-        args[at[1]] = changed(args[at[1]], at[2:], change)
-        return term[:2] + (tuple(args),)
-    things[at[0]] = changed(term[at[0]], at[1:], change)
-    return tuple(things)
 
 
 def without_sets(term, word, got=None):
@@ -61,15 +50,23 @@ class Begins(unittest.TestCase):
     def test_by_hand(self):
         for size in (2, 3, 4):
             every = list(range(size))
-            for body, wanted in ((("get", B), [0]), (X, every), (("then", ("set", B, X), ("get", B)), every),
-                                 (("sum", ("get", B), number(0)), [0]), (("if", X, ("get", B), number(0)), [0]),
-                                 (("then", ("set", B, ("get", B)), X), every), (("same", ("get", B), ("get", B)), every),
-                                 (("then", ("claim", ("not", ("get", B))), X), [0]), (name("f", B, SKIP), [0]),
-                                 (("if", number(0), ("get", B), X), every), (("not", ("get", B)), [0])):
+            for body, wanted in (
+                    (("get", B), [0]),
+                    (X, every),
+                    (("then", ("set", B, X), ("get", B)), every),
+                    (("sum", ("get", B), number(0)), [0]),
+                    (("if", X, ("get", B), number(0)), [0]),
+                    (("then", ("set", B, ("get", B)), X), every),
+                    (("same", ("get", B), ("get", B)), every),
+                    (("then", ("claim", ("not", ("get", B))), X), [0]),
+                    (name("f", B, SKIP), [0]),
+                    (("if", number(0), ("get", B), X), every),
+                    (("not", ("get", B)), [0])):
                 self.assertEqual(begins(piece(new(body), size=size), ()), wanted, body)
         for n in (0, 1, 2):
             self.assertEqual(begins(piece(new(("not", ("get", B)), n=n), size=3), ()), [0] if n == 0 else [1, 2])
-            self.assertEqual(begins(piece(new(("below", ("get", B), number(2)), n=n), size=3), ()), [2] if n == 2 else [0, 1])
+            self.assertEqual(begins(piece(new(("below", ("get", B), number(2)), n=n), size=3), ()), [2]
+                             if n == 2 else [0, 1])
 
     def test_at_other_places(self):
         inner = new(("then", ("set", B, X), ("get", B)), n=1)
@@ -96,14 +93,20 @@ class Begins(unittest.TestCase):
 
 class IsIdle(unittest.TestCase):
     def test_by_hand(self):
-        for body, wanted in ((("then", ("set", B, X), X), True), (("then", ("set", B, X), ("get", B)), False), (("get", B), True),
-                             (("then", ("set", B, number(0)), ("get", B)), True), (("then", ("set", B, number(1)), ("get", B)), False),
-                             (("then", ("set", B, ("get", B)), ("get", B)), True), (name("f", B, ("set", B, X)), False),
-                             (name("f", V, ("set", B, X)), True), (("then", ("get", V) and GO, X), True),
-                             (("then", ("while", X, ("set", B, ("not", ("get", B)))), ("sum", ("get", B), ("get", B))), True),
-                             (("then", ("set", B, X), ("then", ("set", B, number(0)), ("get", B))), True),
-                             (("if", X, ("then", ("set", B, number(1)), ("never", "num")), ("get", B)), True),
-                             (("then", ("if", X, ("set", B, number(1)), SKIP), ("if", X, ("get", B), number(0))), False)):
+        for body, wanted in (
+                (("then", ("set", B, X), X), True),
+                (("then", ("set", B, X), ("get", B)), False),
+                (("get", B), True),
+                (("then", ("set", B, number(0)), ("get", B)), True),
+                (("then", ("set", B, number(1)), ("get", B)), False),
+                (("then", ("set", B, ("get", B)), ("get", B)), True),
+                (name("f", B, ("set", B, X)), False),
+                (name("f", V, ("set", B, X)), True),
+                (("then", ("get", V) and GO, X), True),
+                (("then", ("while", X, ("set", B, ("not", ("get", B)))), ("sum", ("get", B), ("get", B))), True),
+                (("then", ("set", B, X), ("then", ("set", B, number(0)), ("get", B))), True),
+                (("if", X, ("then", ("set", B, number(1)), ("never", "num")), ("get", B)), True),
+                (("then", ("if", X, ("set", B, number(1)), SKIP), ("if", X, ("get", B), number(0))), False)):
             self.assertIs(is_idle(piece(new(body)), ()), wanted, body)
 
     def test_asked_behind_a_write_alone(self):

@@ -34,15 +34,18 @@ def looks(many, last, kind="do"):
 
 class Breaker(unittest.TestCase):
     def test_by_hand(self):
-        for term in (("claim", X), ("claim", number(0)), ("then", GO, ("claim", ("get", V))), ("then", ("set", V, X), ("claim", ("same", X, ("get", V)))),
+        for term in (("claim", X), ("claim", number(0)), ("then", GO, ("claim", ("get", V))), ("then", ("set", V, X),
+                                                                                               ("claim", ("same", X, ("get", V)))),
                      ("claim", ("same", X, X)), ("while", X, ("claim", ("not", X)))):
             around = breaker(piece(term))
             self.assertIsInstance(around, Around)
             self.assertEqual(ended_around(piece(term), around, PLENTY)[0], "broken")
             for other in (SKIP, ("while", X, GO)):
                 self.assertNotEqual(ended_around(piece(other), around, PLENTY)[0], "broken")
-        for term in (X, SKIP, ("claim", number(1)), ("if", number(0), ("claim", X), GO), ("then", ("never", "do"), ("claim", X)),
-                     ("new", "b", 0, ("then", ("set", name("b"), X), ("claim", ("same", ("get", name("b")), ("get", name("b"))))))):
+        for term in (X, SKIP, ("claim", number(1)), ("if", number(0), ("claim", X), GO), ("then", ("never", "do"),
+                                                                                          ("claim", X)),
+                     ("new", "b", 0, ("then", ("set", name("b"), X), ("claim", ("same", ("get", name("b")),
+                                                                                ("get", name("b"))))))):
             self.assertIsNone(breaker(piece(term)))
 
     def test_by_chance(self):
@@ -106,7 +109,8 @@ class Ender(unittest.TestCase):
         seen = {True: 0, False: 0}
         for _ in range(80):
             names = random_names(rng, 3)
-            one, other = (random_piece(rng, 5, size=rng.choice((2, 2)), nodes=3, names=names, kind="num") for _ in range(2))
+            one, other = (random_piece(rng, 5, size=rng.choice((2, 2)), nodes=3, names=names, kind="num")
+                          for _ in range(2))
             for n in range(one.size):
                 around = ender(one, n)
                 self.assertEqual(around is None, n not in answers(one))
@@ -135,7 +139,8 @@ class Ender(unittest.TestCase):
         for thing in ODD_VALUES:
             with self.assertRaises(BadPiece):
                 ender(thing, None)
-        for one, wrong in ((piece(X), (2, -1, None, True, "0", 1.0)), (piece(X, size=3), (3, False)), (piece(SKIP), (1, 2, None, False)),
+        for one, wrong in ((piece(X), (2, -1, None, True, "0", 1.0)), (piece(X, size=3), (3, False)),
+                           (piece(SKIP), (1, 2, None, False)),
                            (too_great({"x": NUM}), (1, None))):
             for n in wrong:
                 with self.assertRaises(BadNumber) as caught:

@@ -7,10 +7,10 @@ from playsalike.alike import same
 from playsalike.dead import dead_places, unasked
 from playsalike.errors import BadPiece, TooMany
 from playsalike.pieces import Function, Piece, free_names, function_of, made_piece, put
-from playsalike.places import exchanged, names_at, part_at, places
+from playsalike.places import exchanged, names_at, part_at
 from playsalike.plays import plays_up_to
 from samples import BOX, DO, NUM, ODD_VALUES, SKIP, every_place, name, number, some, too_great
-from test_rewriting import free_uses, sort_in
+from termparts import free_uses, own_at, sort_in
 
 X, Y, V, GO, B = name("x"), name("y"), name("v"), name("go"), name("b")
 NAMES = {"x": NUM, "v": BOX, "go": DO}
@@ -18,22 +18,6 @@ NAMES = {"x": NUM, "v": BOX, "go": DO}
 
 def piece(term, names=None, size=2):
     return Piece(size, NAMES if names is None else names, term)
-
-
-def own_at(one, at):
-    """The words that terms around the place give there."""
-    found, term, left = [], one.term, list(at)
-    while left:
-        step = left.pop(0)
-        if term[0] == "name":
-            term = term[2][left.pop(0)]
-            continue
-        if term[0] == "new" and step == 3:
-            found.append(term[1])
-        if term[0] == "made" and step == 3:
-            found.append(term[2])
-        term = term[step]
-    return found
 
 
 class Unasked(unittest.TestCase):
@@ -82,8 +66,10 @@ class DeadPlaces(unittest.TestCase):
         self.assertEqual(dead_places(piece(("while", X, ("never", "do")))), [])
         self.assertEqual(dead_places(piece(("then", ("while", X, ("never", "do")), GO))), [])
         self.assertEqual(dead_places(piece(("never", "num"))), [])
-        self.assertEqual(dead_places(piece(("then", ("if", X, GO, SKIP), ("never", "num")))), [(1,), (1, 1), (1, 2), (1, 3)])
-        self.assertEqual(dead_places(piece(("new", "b", 1, ("if", ("get", B), X, ("sum", X, X))))), [(3, 3), (3, 3, 1), (3, 3, 2)])
+        self.assertEqual(dead_places(piece(("then", ("if", X, GO, SKIP), ("never", "num")))), [(1,), (1, 1), (1, 2),
+                                                                                               (1, 3)])
+        self.assertEqual(dead_places(piece(("new", "b", 1, ("if", ("get", B), X, ("sum", X, X))))),
+                         [(3, 3), (3, 3, 1), (3, 3, 2)])
         # In an argument that may never be asked it is asked in some program.
         self.assertEqual(dead_places(piece(name("f", X), {"f": (("num",), "num"), "x": NUM})), [])
         self.assertEqual(dead_places(piece=piece(("get", ("made", X, "n", GO)))), [(1, 3)])
@@ -138,11 +124,13 @@ class DeadPlaces(unittest.TestCase):
         with self.assertRaises(TooMany) as caught:
             dead_places(one)
         self.assertEqual(caught.exception.most, 4)
-        self.assertEqual(dead_places(Piece(2, {word: NUM for word in "abc"}, ("if", number(1), name("a"), name("b")))), [(3,)])
+        self.assertEqual(dead_places(Piece(2, {word: NUM for word in "abc"}, ("if", number(1), name("a"), name("b")))),
+                         [(3,)])
         self.assertEqual(unasked(one), ["b", "c", "d"])
 
     def test_places_of_pieces_made_by_put(self):
-        one = put(piece(("sum", X, X), {"x": NUM}), "x", function_of(piece(("if", number(1), X, Y), {"x": NUM, "y": NUM})))
+        one = put(piece(("sum", X, X), {"x": NUM}), "x", function_of(piece(("if", number(1), X, Y),
+                                                                           {"x": NUM, "y": NUM})))
         self.assertEqual(dead_places(one), [(1, 3), (2, 3)])
 
     def test_errors(self):

@@ -59,6 +59,18 @@ CALLS = {
     "invariants": ["before(piece, boxes, wanted)", "least_kept(test, body, boxes, starts)"],
     "playwrights": ["around_of(piece, play)"],
     "rules": ["is_right(rule)"],
+    "parters": ["parter(piece, other)"],
+    "soles": ["sole_piece(piece, play)"],
+    "smallpieces": ["all_terms(size, names, sort, nodes)", "classes(size, names, sort, nodes)"],
+    "leastterms": ["least_same(piece, nodes)"],
+    "safefunctions": ["safe_functions(piece, word, nodes)"],
+    "smallrules": ["shortens(rule)", "small_rules(size, holes, nodes)", "normal(piece, rules)"],
+    "piecetexts": ["piece_text(piece)", "function_text(function)", "piece_of_text(text)",
+                   "function_of_text(text)", "next_in_piece(text)", "next_in_function(text)"],
+    "playtexts": ["play_text(piece, row)", "play_of_text(piece, text)", "next_in_play(piece, text)"],
+    "renames": ["plain_piece(piece)", "renamed_piece(piece, words)", "piece_renaming(piece, other)"],
+    "benchlogs": ["deed_line(deed)", "deed_of_line(text)", "journal(bench)", "taken_up(book, lines)",
+                  "trimmed(bench)"],
     "rewriting": ["matched(rule, piece, at)", "rewritten(rule, piece, at)"],
     "dead": ["unasked(piece)", "dead_places(piece)"],
     "optimising": ["shortening(piece)", "optimised(piece)"],
@@ -82,6 +94,7 @@ CLASSES = {
     "rules": ["Rule(left, right)"],
     "scribes": ["Scribe(piece, thing)"],
     "benches": ["Bench(book)"],
+    "desk": ["Desk(book)"],
 }
 METHODS = {
     ("houses", "House"): ["can_hear(self)", "hear(self, move)", "twin(self)", "steps(self)", "spots(self)",
@@ -91,6 +104,7 @@ METHODS = {
     ("benches", "Bench"): ["do(self, deed)", "undo(self)", "redo(self)", "questions(self)", "answers(self)",
                            "versions(self, word)", "deeds(self)", "undone(self)", "what_if(self, deed)",
                            "since(self, number)"],
+    ("desk", "Desk"): ["say(self, line)"],
 }
 FOLDER = Path(playsalike.__file__).parent
 

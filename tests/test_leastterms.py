@@ -14,7 +14,7 @@ from playsalike.smallpieces import all_terms, classes
 from samples import BOX, DO, NUM, ODD_VALUES, SKIP, count_nodes, every_place, name, number, some, too_great
 from smallterms import up_to
 
-X, Y, V, GO = name("x"), name("y"), name("v"), name("go")
+X, V, GO = name("x"), name("v"), name("go")
 
 
 def piece(term, names, size=2):
@@ -28,25 +28,40 @@ def is_box(names, part):
 class LeastSame(unittest.TestCase):
     def test_by_hand(self):
         names = {"x": NUM, "v": BOX, "go": DO}
-        for term, wanted in ((X, X), (("sum", X, number(0)), X), (("sum", number(1), X), ("not", X)), (("not", ("not", X)), X),
-                             (("if", X, number(1), number(0)), X), (("while", number(1), GO), ("never", "do")), (("then", SKIP, GO), GO),
-                             (("less", X, X), ("less", X, X)), (("sum", X, X), ("less", X, X)), (("same", X, number(0)), ("not", X)),
-                             (("get", V), ("get", V)), (("new", "b", 1, ("sum", ("get", name("b")), X)), ("not", X)), (("never", "num"), ("never", "num")),
-                             (("then", GO, ("then", GO, GO)), None), (("claim", ("not", ("not", X))), ("claim", X)), (("claim", number(0)), ("claim", number(0))),
-                             (("then", GO, ("never", "num")), ("never", "num")), (("set", V, ("get", V)), ("set", V, ("get", V)))):
+        for term, wanted in (
+                (X, X),
+                (("sum", X, number(0)), X),
+                (("sum", number(1), X), ("not", X)),
+                (("not", ("not", X)), X),
+                (("if", X, number(1), number(0)), X),
+                (("while", number(1), GO), ("never", "do")),
+                (("then", SKIP, GO), GO),
+                (("less", X, X), ("less", X, X)),
+                (("sum", X, X), ("less", X, X)),
+                (("same", X, number(0)), ("not", X)),
+                (("get", V), ("get", V)),
+                (("new", "b", 1, ("sum", ("get", name("b")), X)), ("not", X)),
+                (("never", "num"), ("never", "num")),
+                (("then", GO, ("then", GO, GO)), None),
+                (("claim", ("not", ("not", X))), ("claim", X)),
+                (("claim", number(0)), ("claim", number(0))),
+                (("then", GO, ("never", "num")), ("never", "num")),
+                (("set", V, ("get", V)), ("set", V, ("get", V)))):
             self.assertEqual(least_same(piece(term, names), 4), wanted)
 
     def test_bounds_of_nodes(self):
         names = {"x": NUM}
         one = piece(("not", ("less", X, X)), names)
-        self.assertEqual([least_same(one, nodes) for nodes in (1, 2, 3, 4)], [None, None, ("same", X, X), ("same", X, X)])
+        self.assertEqual([least_same(one, nodes) for nodes in (1, 2, 3, 4)], [None, None, ("same", X, X),
+                                                                              ("same", X, X)])
         one = piece(("sum", X, ("sum", X, X)), names)
         self.assertIsNone(least_same(piece=one, nodes=4))
 
     def test_beside_the_list_of_all_terms(self):
         rng = some(540)
         seen = {}
-        for size, names in ((2, {}), (2, {"x": NUM}), (2, {"b": BOX}), (2, {"a": DO, "x": NUM}), (3, {"x": NUM}), (2, {"f": (("num",), "num")}),
+        for size, names in ((2, {}), (2, {"x": NUM}), (2, {"b": BOX}), (2, {"a": DO, "x": NUM}), (3, {"x": NUM}),
+                            (2, {"f": (("num",), "num")}),
                             (2, {"f": (("box", "do"), "num"), "v": BOX})):
             for kind in ("num", "do"):
                 every = up_to(size, names, kind, 4)
@@ -66,7 +81,8 @@ class LeastSame(unittest.TestCase):
         # No other term of four nodes keeps what was heard, or lets an argument be read and set as it likes.
         names = {"f": (("box",), "num")}
         for term in (("new", "a", 0, name("f", name("a"))), ("new", "a", 1, name("f", name("a"))),
-                     name("f", ("made", number(0), "a", SKIP)), name("f", ("made", number(1), "a", ("claim", name("a"))))):
+                     name("f", ("made", number(0), "a", SKIP)), name("f", ("made", number(1), "a",
+                                                                           ("claim", name("a"))))):
             nodes = min(4, count_nodes(term))
             if count_nodes(term) <= 4:
                 self.assertEqual(least_same(piece(term, names), nodes), term)
@@ -90,13 +106,16 @@ class LeastSame(unittest.TestCase):
                         self.assertEqual(least_same(Piece(2, inner, part), 3), part)
 
     def test_more_than_3000_terms(self):
-        for size, names, nodes in ((4, {word: NUM for word in "abcd"}, 4), (4, {word: (("num", "num", "num"), "num") for word in "abcd"}, 4)):
-            one = Piece(size, names, ("sum", ("sum", self.use(names), number(1)), ("sum", self.use(names), self.use(names))))
+        for size, names, nodes in ((4, {word: NUM for word in "abcd"}, 4), (4, {word: (("num", "num", "num"), "num")
+                                                                                for word in "abcd"}, 4)):
+            one = Piece(size, names, ("sum", ("sum", self.use(names), number(1)), ("sum", self.use(names),
+                                                                                   self.use(names))))
             try:
                 self.assertIsNone(least_same(one, nodes))
             except TooMany as error:
                 self.assertEqual(error.most, 3000)
-            self.assertEqual(least_same(Piece(size, names, ("sum", self.use(names), number(0))), nodes), self.use(names))
+            self.assertEqual(least_same(Piece(size, names, ("sum", self.use(names), number(0))), nodes),
+                             self.use(names))
         with self.assertRaises(TooMany):
             all_terms(4, {word: NUM for word in "abcd"}, "num", 4)
 
@@ -142,7 +161,8 @@ class PlacesAndRules(unittest.TestCase):
         names = {"x": NUM, "y": NUM, "go": DO}
         tried = 0
         while tried < 60:
-            left, right = (random_piece(rng, 3, names=names, size=2, kind="num", nodes=2, claims=False) for _ in range(2))
+            left, right = (random_piece(rng, 3, names=names, size=2, kind="num", nodes=2, claims=False)
+                           for _ in range(2))
             if not set(free_names(right)) <= set(free_names(left)):
                 continue
             tried += 1

@@ -9,8 +9,7 @@ from playsalike.optimising import optimised, shortening
 from playsalike.pieces import Function, Piece, function_of, put
 from playsalike.places import exchanged, names_at, part_at, places
 from samples import (BOX, DO, NUM, ODD_VALUES, SKIP, count_nodes, every_place, name, number, some, too_great)
-from test_dead import own_at
-from test_rewriting import free_uses, sort_in
+from termparts import free_uses, own_at, sort_in
 
 X, Y, V, GO, B = name("x"), name("y"), name("v"), name("go"), name("b")
 NAMES = {"x": NUM, "y": NUM, "v": BOX, "go": DO}
@@ -43,26 +42,39 @@ def by_hand(one):
 
 class Shortening(unittest.TestCase):
     def test_by_hand(self):
-        for term, wanted in ((("sum", X, number(0)), ((), X)), (("sum", number(0), X), ((), X)), (("sum", X, X), None), (X, None),
-                             (("not", ("not", X)), ((), X)), (("sum", number(1), number(1)), ((), number(0))), (SKIP, None),
-                             (("then", GO, ("never", "num")), ((), ("never", "num"))), (("while", number(1), GO), ((), ("never", "do"))),
-                             (("while", number(0), GO), ((), SKIP)), (("then", SKIP, GO), ((), GO)), (("then", GO, SKIP), ((), GO)),
-                             (("then", ("then", GO, GO), SKIP), ((), ("then", GO, GO))), (("claim", number(1)), ((), SKIP)),
-                             (("claim", number(0)), None), (("claim", ("not", ("not", X))), ((1,), X)),
-                             (("new", "b", 1, ("sum", X, ("get", B))), ((3, 2), number(1))),
-                             (("new", "b", 0, ("then", ("set", B, X), ("get", B))), ((), X)),
-                             (("new", "b", 0, ("then", ("set", B, X), ("if", Y, ("get", B), number(0)))), None),
-                             (("new", "b", 0, ("then", ("set", B, number(1)), X)), ((), X)),
-                             (("get", ("made", X, "n", GO)), ((), X)), (("less", X, ("sum", number(1), number(1))), ((), X)),
-                             (("if", X, ("then", GO, SKIP), ("then", SKIP, GO)), ((2,), GO)),
-                             (("set", V, ("if", number(1), X, number(0))), ((2,), X)),
-                             (("set", ("made", X, "n", ("set", V, name("n"))), X), None)):
+        for term, wanted in (
+                (("sum", X, number(0)), ((), X)),
+                (("sum", number(0), X), ((), X)),
+                (("sum", X, X), None),
+                (X, None),
+                (("not", ("not", X)), ((), X)),
+                (("sum", number(1), number(1)), ((), number(0))),
+                (SKIP, None),
+                (("then", GO, ("never", "num")), ((), ("never", "num"))),
+                (("while", number(1), GO), ((), ("never", "do"))),
+                (("while", number(0), GO), ((), SKIP)),
+                (("then", SKIP, GO), ((), GO)),
+                (("then", GO, SKIP), ((), GO)),
+                (("then", ("then", GO, GO), SKIP), ((), ("then", GO, GO))),
+                (("claim", number(1)), ((), SKIP)),
+                (("claim", number(0)), None),
+                (("claim", ("not", ("not", X))), ((1,), X)),
+                (("new", "b", 1, ("sum", X, ("get", B))), ((3, 2), number(1))),
+                (("new", "b", 0, ("then", ("set", B, X), ("get", B))), ((), X)),
+                (("new", "b", 0, ("then", ("set", B, X), ("if", Y, ("get", B), number(0)))), None),
+                (("new", "b", 0, ("then", ("set", B, number(1)), X)), ((), X)),
+                (("get", ("made", X, "n", GO)), ((), X)),
+                (("less", X, ("sum", number(1), number(1))), ((), X)),
+                (("if", X, ("then", GO, SKIP), ("then", SKIP, GO)), ((2,), GO)),
+                (("set", V, ("if", number(1), X, number(0))), ((2,), X)),
+                (("set", ("made", X, "n", ("set", V, name("n"))), X), None)):
             with self.subTest(term=term):
                 self.assertEqual(shortening(piece(term)), wanted)
 
     def test_sequence(self):
         # Both parts would do: the first one by its place; numbers ahead of never ahead of parts.
-        self.assertEqual(shortening(piece(("if", X, ("if", number(1), GO, SKIP), ("if", number(0), SKIP, GO)))), ((2,), GO))
+        self.assertEqual(shortening(piece(("if", X, ("if", number(1), GO, SKIP), ("if", number(0), SKIP, GO)))),
+                         ((2,), GO))
         self.assertEqual(shortening(piece(("then", GO, ("then", ("never", "do"), GO)))), ((), ("never", "do")))
         self.assertEqual(shortening(piece(("sum", number(1), number(1)), size=3)), ((), number(2)))
         self.assertEqual(shortening(piece(("then", ("while", number(0), GO), ("while", number(0), GO)))), ((), SKIP))

@@ -14,7 +14,7 @@ from playsalike.pieces import Function, Piece, function_of, made_piece, put
 from playsalike.places import places, part_at
 from playsalike.playwrights import around_of
 from samples import BOX, DO, NUM, ODD_VALUES, SKIP, name, number, some, too_great
-from test_boxes import changed
+from termparts import changed
 
 X, V, GO = name("x"), name("v"), name("go")
 NAMES = {"x": NUM, "v": BOX, "go": DO}
@@ -66,13 +66,20 @@ class Parter(unittest.TestCase):
 
     def test_by_hand(self):
         false = ("claim", number(0))
-        for one, other, wanted in ((("sum", X, X), ("sum", X, ("sum", X, number(0))), None), (X, ("not", X), 0), (X, number(0), 1),
-                                   (number(0), X, 0), (("sum", X, X), number(0), 1), (("same", X, X), number(1), 1),
-                                   (("while", X, GO), ("if", X, ("then", GO, ("while", X, GO)), SKIP), None),
-                                   (("while", X, GO), ("if", X, ("then", GO, ("while", X, SKIP)), SKIP), 1),
-                                   (("then", GO, false), false, 1), (false, SKIP, 0), (("claim", X), ("if", X, SKIP, ("never", "do")), 0),
-                                   (("then", ("set", V, X), ("get", V)), ("then", ("set", V, X), X), 1),
-                                   (("never", "num"), ("then", ("while", number(1), GO), X), None)):
+        for one, other, wanted in (
+                (("sum", X, X), ("sum", X, ("sum", X, number(0))), None),
+                (X, ("not", X), 0),
+                (X, number(0), 1),
+                (number(0), X, 0),
+                (("sum", X, X), number(0), 1),
+                (("same", X, X), number(1), 1),
+                (("while", X, GO), ("if", X, ("then", GO, ("while", X, GO)), SKIP), None),
+                (("while", X, GO), ("if", X, ("then", GO, ("while", X, SKIP)), SKIP), 1),
+                (("then", GO, false), false, 1),
+                (false, SKIP, 0),
+                (("claim", X), ("if", X, SKIP, ("never", "do")), 0),
+                (("then", ("set", V, X), ("get", V)), ("then", ("set", V, X), X), 1),
+                (("never", "num"), ("then", ("while", number(1), GO), X), None)):
             with self.subTest(one=one, other=other):
                 self.assertEqual(self.check(piece(one), piece(other)), wanted)
 
@@ -147,7 +154,8 @@ class Parter(unittest.TestCase):
             with self.assertRaises(TooMany) as caught:
                 parter(looks(many, number(0)), looks(many, number(1)))
             self.assertEqual(caught.exception.most, 200)
-            self.assertIsNone(parter(looks(many, number(0)), put(looks(many, number(0)), "x", function_of(piece(X, {"x": NUM})))))
+            self.assertIsNone(parter(looks(many, number(0)), put(looks(many, number(0)), "x",
+                                                                 function_of(piece(X, {"x": NUM})))))
         with self.assertRaises(TooMany) as caught:
             parter(too_great({"x": NUM}), Piece(2, {"x": NUM}, SKIP))
         self.assertEqual(caught.exception.most, 2000)

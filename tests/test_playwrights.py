@@ -57,8 +57,10 @@ class AroundOf(unittest.TestCase):
 
     def test_plays_without_names(self):
         for size in (2, 3, 4):
-            ones = [Piece(size, {}, term) for term in (number(0), number(1), ("never", "num"), ("then", ("claim", number(0)), number(1)))]
-            for play in ([("ask",), ("num", 0)], [("ask",), ("num", 1)], [("ask",), BREAK], [("ask",), ("num", size - 1)]):
+            ones = [Piece(size, {}, term) for term in (number(0), number(1), ("never", "num"),
+                                                       ("then", ("claim", number(0)), number(1)))]
+            for play in ([("ask",), ("num", 0)], [("ask",), ("num", 1)], [("ask",), BREAK],
+                         [("ask",), ("num", size - 1)]):
                 for one in ones:
                     self.check(one, play)
             for play in ([("ask",), ("do",)], [("ask",), BREAK]):
@@ -69,7 +71,8 @@ class AroundOf(unittest.TestCase):
         go = name("go")
         play = [("ask",), ("call", "go"), ("did", "go"), BREAK]
         false = ("claim", number(0))
-        for term, told in ((false, "broken"), (("then", go, false), "broken"), (("then", go, ("then", go, false)), "on"),
+        for term, told in ((false, "broken"), (("then", go, false), "broken"), (("then", go, ("then", go, false)),
+                                                                                "on"),
                            (go, "on"), (SKIP, "on"), (("then", go, ("claim", number(1))), "on")):
             self.assertEqual(self.check(Piece(2, {"go": DO}, term), play), told)
 
@@ -93,8 +96,10 @@ class AroundOf(unittest.TestCase):
         f = (("do",), "do")
         inner = name("f", name("f", name("f", SKIP)))
         piece = Piece(2, {"f": f}, inner)
-        play = [("ask",), ("call", "f"), ("ask", "f", 0), ("call", "f"), ("ask", "f", 0), ("call", "f"), ("ask", "f", 0),
-                ("did", "f", 0), ("ask", "f", 0), ("did", "f", 0), ("did", "f"), ("did", "f", 0), ("did", "f"), ("did", "f", 0),
+        play = [("ask",), ("call", "f"), ("ask", "f", 0), ("call", "f"), ("ask", "f", 0), ("call", "f"),
+                ("ask", "f", 0),
+                ("did", "f", 0), ("ask", "f", 0), ("did", "f", 0), ("did", "f"), ("did", "f", 0), ("did", "f"),
+                ("did", "f", 0),
                 ("ask", "f", 0), ("call", "f"), ("did", "f"), ("did", "f", 0), ("did", "f"), ("do",)]
         self.assertEqual(self.check(piece, play), "do")
         for term in (name("f", name("f", SKIP)), name("f", name("f", name("f", name("f", SKIP)))), name("f", SKIP)):
@@ -137,7 +142,8 @@ class AroundOf(unittest.TestCase):
     def test_all_short_plays_part_all_small_pieces(self):
         names = {"x": NUM}
         terms = [X, number(0), number(1), ("sum", X, X), ("not", X), ("if", X, X, number(0)), ("never", "num"),
-                 ("then", ("claim", X), X), ("then", ("claim", number(0)), X), ("then", ("if", X, SKIP, ("claim", X)), number(1))]
+                 ("then", ("claim", X), X), ("then", ("claim", number(0)), X), ("then", ("if", X, SKIP, ("claim", X)),
+                                                                                number(1))]
         pieces = [Piece(2, names, term) for term in terms]
         for length in (2, 4, 6):
             for play in all_plays(pieces[0], length):

@@ -38,11 +38,15 @@ OPEN = Book(2, (
 
 class IsQuestion(unittest.TestCase):
     def test_is_question(self):
-        for thing in (("same", "a", "b"), ("less", "a", "a"), ("holds", "x"), ("ends", "abcdefgh"), ("same", "same", "less")):
+        for thing in (("same", "a", "b"), ("less", "a", "a"), ("holds", "x"), ("ends", "abcdefgh"),
+                      ("same", "same", "less")):
             self.assertIs(is_question(thing=thing), True)
-        for thing in ODD_VALUES + [("same", "a"), ("same", "a", "b", "c"), ("holds", "a", "b"), ("ends",), ("less", "a", 1), ("more", "a", "b"),
-                                   ["same", "a", "b"], ("same", ["a"], "b"), ("holds", ""), ("holds", "A"), ("ends", "abcdefghi"), ("ends", None),
-                                   (["same"], "a", "b"), ("same", "a", "B"), (None, "a"), ((), "a"), "same", ("same a b",)]:
+        for thing in ODD_VALUES + [("same", "a"), ("same", "a", "b", "c"), ("holds", "a", "b"), ("ends",),
+                                   ("less", "a", 1), ("more", "a", "b"),
+                                   ["same", "a", "b"], ("same", ["a"], "b"), ("holds", ""), ("holds", "A"),
+                                   ("ends", "abcdefghi"), ("ends", None),
+                                   (["same"], "a", "b"), ("same", "a", "B"), (None, "a"), ((), "a"), "same",
+                                   ("same a b",)]:
             self.assertIs(is_question(thing), False)
 
 
@@ -50,24 +54,33 @@ class Answered(unittest.TestCase):
     def check(self, book, table):
         for question, wanted in table:
             found = answered(book=book, question=question)
-            self.assertEqual((found, found is True or found is False), (wanted, wanted is True or wanted is False), question)
+            self.assertEqual((found, found is True or found is False), (wanted, wanted is True or wanted is False),
+                             question)
 
     def test_whole_entries(self):
         self.check(BOOK, [
-            (("same", "a", "b"), True), (("same", "a", "c"), False), (("less", "c", "a"), True), (("less", "a", "c"), False),
-            (("less", "a", "b"), True), (("same", "d", "b"), False), (("same", "a", "a"), True), (("less", "inc", "keep"), False),
-            (("same", "inc", "keep"), False), (("same", "keep", "keep"), True), (("same", "a", "inc"), "other"), (("less", "keep", "b"), "other"),
-            (("holds", "a"), True), (("holds", "d"), False), (("holds", "keep"), True), (("ends", "a"), ("num", 0)), (("ends", "b"), ("num", 0)),
-            (("ends", "c"), ("on", 0)), (("ends", "d"), ("broken", 0)), (("ends", "inc"), "other"), (("ends", "keep"), "other")])
+            (("same", "a", "b"), True), (("same", "a", "c"), False), (("less", "c", "a"), True),
+                          (("less", "a", "c"), False),
+            (("less", "a", "b"), True), (("same", "d", "b"), False), (("same", "a", "a"), True),
+                          (("less", "inc", "keep"), False),
+            (("same", "inc", "keep"), False), (("same", "keep", "keep"), True), (("same", "a", "inc"), "other"),
+                          (("less", "keep", "b"), "other"),
+            (("holds", "a"), True), (("holds", "d"), False), (("holds", "keep"), True), (("ends", "a"), ("num", 0)),
+                          (("ends", "b"), ("num", 0)),
+            (("ends", "c"), ("on", 0)), (("ends", "d"), ("broken", 0)), (("ends", "inc"), "other"),
+                          (("ends", "keep"), "other")])
 
     def test_open_entries(self):
         self.check(OPEN, [
-            (("same", "a", "b"), True), (("same", "a", "c"), False), (("less", "c", "b"), False), (("holds", "c"), False), (("holds", "a"), True),
-            (("same", "a", "go"), "other"), (("less", "go", "b"), "other"), (("same", "inc", "other"), "other"), (("same", "a", "inc"), "other"),
+            (("same", "a", "b"), True), (("same", "a", "c"), False), (("less", "c", "b"), False),
+                          (("holds", "c"), False), (("holds", "a"), True),
+            (("same", "a", "go"), "other"), (("less", "go", "b"), "other"), (("same", "inc", "other"), "other"),
+                          (("same", "a", "inc"), "other"),
             (("ends", "a"), "other"), (("ends", "go"), "other"), (("less", "inc", "inc"), True)])
 
     def test_words_that_are_no_entries(self):
-        self.check(BOOK, [(("same", "a", "z"), "lacks"), (("same", "z", "a"), "lacks"), (("less", "z", "y"), "lacks"), (("holds", "z"), "lacks"),
+        self.check(BOOK, [(("same", "a", "z"), "lacks"), (("same", "z", "a"), "lacks"), (("less", "z", "y"), "lacks"),
+                          (("holds", "z"), "lacks"),
                           (("ends", "p"), "lacks"), (("same", "inc", "z"), "lacks")])
         self.check(OPEN, [(("ends", "x"), "lacks"), (("holds", "x"), "lacks")])
         self.check(Book(2, ()), [(("ends", "a"), "lacks"), (("same", "a", "a"), "lacks")])
@@ -91,7 +104,8 @@ class Answered(unittest.TestCase):
                         wanted = same(pieces[word], pieces[other]), less(pieces[word], pieces[other])
                     self.assertEqual(told, wanted)
                     seen[told] = seen.get(told, 0) + 1
-        self.assertGreater(min(seen[("other", "other")], seen[(False, False)], seen[(False, True)], seen[(True, True)]), 5)
+        self.assertGreater(min(seen[("other", "other")], seen[(False, False)], seen[(False, True)], seen[(True, True)]),
+                           5)
 
     def test_ends_beside_evaluated(self):
         rng = some(941)
@@ -116,7 +130,8 @@ class Answered(unittest.TestCase):
         wide = P
         for _ in range(4):
             wide = ("sum", wide, wide)
-        book = Book(2, (("a", fun(name("b", name("b", X)), {"b": UNARY, "x": NUM})), ("b", fun(wide, {}, PARAM)), ("c", fun(X, {"x": NUM}))))
+        book = Book(2, (("a", fun(name("b", name("b", X)), {"b": UNARY, "x": NUM})), ("b", fun(wide, {}, PARAM)),
+                        ("c", fun(X, {"x": NUM}))))
         for question in (("ends", "a"), ("holds", "a"), ("same", "a", "c"), ("less", "c", "a")):
             with self.assertRaises(TooMany) as caught:
                 answered(book, question)

@@ -12,7 +12,7 @@ from playsalike.pieces import Piece, function_of, made_piece, put
 from playsalike.readings import digits_apart, read_apart
 from samples import BOX, DO, NUM, ODD_VALUES, SKIP, name, number, some, too_great
 
-X, V, GO = name("x"), name("v"), name("go")
+X, GO = name("x"), name("go")
 NAMES = {"x": NUM, "v": BOX, "go": DO}
 
 
@@ -38,7 +38,8 @@ class ReadApart(unittest.TestCase):
         self.assertEqual(read_apart(one, other, [0]), (2, ("num", 1), ("num", 0)))
         self.assertEqual(read_apart(one, other, [5, 7, 9]), (2, ("num", 0), ("num", 1)))
         self.assertEqual(read_apart(X and piece(X), piece(number(0)), []), (1, ("call", "x"), ("num", 0)))
-        self.assertEqual(read_apart(piece=piece(GO), other=piece(("claim", number(0))), digits=(1,)), (1, ("call", "go"), ("break",)))
+        self.assertEqual(read_apart(piece=piece(GO), other=piece(("claim", number(0))), digits=(1,)),
+                         (1, ("call", "go"), ("break",)))
         self.assertIsNone(read_apart(one, piece(("not", X)), [0, 0, 0]))
 
     def test_lost(self):
@@ -91,7 +92,8 @@ class DigitsApart(unittest.TestCase):
         self.assertEqual(self.check(piece(number(0)), piece(X)), [])
         self.assertEqual(self.check(piece(("not", X)), piece(X)), [0])
         self.assertEqual(self.check(piece(X), piece(("if", X, number(1), ("never", "num")))), [0])
-        self.assertEqual(self.check(piece(("if", X, ("never", "num"), number(1))), piece(("if", X, number(1), ("never", "num")))), [0])
+        self.assertEqual(self.check(piece(("if", X, ("never", "num"), number(1))),
+                                    piece(("if", X, number(1), ("never", "num")))), [0])
         self.assertIsNone(self.check(piece(("never", "num")), piece(("then", GO, ("never", "num")))))
         self.assertIsNone(self.check(piece(("while", X, GO)), piece(("if", X, ("then", GO, ("while", X, GO)), SKIP))))
         self.assertEqual(self.check(piece(("then", GO, ("claim", X))), piece(GO)), [0])

@@ -9,8 +9,10 @@ from playsalike.pieces import Piece, function_of
 from playsalike.places import exchanged, names_at, part_at, places
 from playsalike.rewriting import matched, rewritten
 from playsalike.rules import Rule, is_right
-from samples import (BOX, DO, NUM, ODD_VALUES, SKIP, count_nodes, depth_of, every_place, leveled, name, number, random_term,
+from samples import (BOX, DO, NUM, ODD_VALUES, SKIP, count_nodes, depth_of, every_place, leveled, name, number,
+                     random_term,
                      some, term_parts)
+from termparts import free_uses, own_of, put_by, sort_in
 
 X, Y, V, GO, H = name("x"), name("y"), name("v"), name("go"), name("h")
 NAMES = {"x": NUM, "y": NUM, "v": BOX, "go": DO}
@@ -23,21 +25,6 @@ def rule(left, right=None, holes=None, size=2):
 
 def piece(term, names=None, size=2):
     return Piece(size, NAMES if names is None else names, term)
-
-
-def put_by(term, table, own=()):
-    """The term with terms in the place of its free words, words of its own as they are."""
-    if term[0] == "name" and term[1] not in own:
-        return table[term[1]]
-    things = list(term)
-    for path, part in term_parts(term):
-        inner = own + ((own_of(term),) if term[0] in ("new", "made") and path == (3,) else ())
-        things[path[0]] = put_by(part, table, inner)
-    return tuple(things)
-
-
-def own_of(term):
-    return term[1] if term[0] == "new" else term[2]
 
 
 def fits(holes, left, part, names, ours, theirs, found):
@@ -65,24 +52,6 @@ def fits(holes, left, part, names, ours, theirs, found):
     return True
 
 
-def sort_in(names, term):
-    if term[0] == "name":
-        return names[term[1]][1]
-    if term[0] in ("then", "if"):
-        return sort_in(names, term[-1])
-    if term[0] == "new":
-        return sort_in({**names, term[1]: BOX}, term[3])
-    return {"made": "box", "never": term[-1], "skip": "do", "while": "do", "set": "do", "claim": "do"}.get(term[0], "num")
-
-
-def free_uses(term, own=()):
-    found = [term] if term[0] == "name" and term[1] not in own else []
-    for path, part in term_parts(term):
-        inner = own + ((own_of(term),) if term[0] in ("new", "made") and path == (3,) else ())
-        found += free_uses(part, inner)
-    return found
-
-
 class Matched(unittest.TestCase):
     def test_by_hand(self):
         told = rule(("sum", H, number(0)))
@@ -101,9 +70,18 @@ class Matched(unittest.TestCase):
 
     def test_sorts(self):
         deed, box, any_num = rule(name("d"), holes={"d": DO}), rule(("get", name("b")), holes={"b": BOX}), rule(H)
-        for term, sort in ((X, "num"), (("then", GO, X), "num"), (GO, "do"), (("if", X, GO, SKIP), "do"), (("never", "num"), "num"),
-                           (("never", "do"), "do"), (("new", "x", 0, ("set", X, number(1))), "do"), (("new", "go", 0, X), "num"),
-                           (("while", X, GO), "do"), (("set", V, X), "do"), (("get", V), "num")):
+        for term, sort in (
+                (X, "num"),
+                (("then", GO, X), "num"),
+                (GO, "do"),
+                (("if", X, GO, SKIP), "do"),
+                (("never", "num"), "num"),
+                (("never", "do"), "do"),
+                (("new", "x", 0, ("set", X, number(1))), "do"),
+                (("new", "go", 0, X), "num"),
+                (("while", X, GO), "do"),
+                (("set", V, X), "do"),
+                (("get", V), "num")):
             self.assertEqual(matched(deed, piece(term), ()), {"d": term} if sort == "do" else None)
             self.assertEqual(matched(any_num, piece(term), ()), {"h": term} if sort == "num" else None)
         self.assertEqual(matched(box, piece(("get", V)), ()), {"b": V})
@@ -129,38 +107,47 @@ class Matched(unittest.TestCase):
         b, c = name("b"), name("c")
         self.assertEqual(matched(told, piece(("new", "c", 0, ("then", ("set", c, X), ("get", c)))), ()), {"h": X})
         self.assertEqual(matched(told, piece(("new", "x", 0, ("then", ("set", X, Y), ("get", X)))), ()), {"h": Y})
-        for term in (("new", "c", 1, ("then", ("set", c, X), ("get", c))), ("new", "c", 0, ("then", ("set", c, X), ("get", V))),
-                     ("new", "c", 0, ("then", ("set", V, X), ("get", c))), ("new", "c", 0, ("then", ("set", c, ("get", c)), ("get", c))),
+        for term in (("new", "c", 1, ("then", ("set", c, X), ("get", c))), ("new", "c", 0, ("then", ("set", c, X),
+                                                                                            ("get", V))),
+                     ("new", "c", 0, ("then", ("set", V, X), ("get", c))),
+                     ("new", "c", 0, ("then", ("set", c, ("get", c)), ("get", c))),
                      ("new", "c", 0, ("then", ("set", c, X), ("get", ("made", ("get", c), "n", SKIP))))):
             self.assertIsNone(matched(told, piece(term), ()))
         inner = ("new", "v", 1, ("new", "c", 0, ("then", ("set", c, ("get", V)), ("get", c))))
         self.assertEqual(matched(told, piece(inner), (3,)), {"h": ("get", V)})
         shadow = ("new", "c", 0, ("then", ("set", c, ("new", "c", 1, ("get", c))), ("get", c)))
         self.assertEqual(matched(told, piece(shadow), ()), {"h": ("new", "c", 1, ("get", c))})
-        self.assertIsNone(matched(told, piece(("new", "c", 0, ("then", ("set", c, ("new", "d", 1, ("get", c))), ("get", c)))), ()))
-        self.assertEqual(matched(rule(("new", "h", 0, ("get", H)), holes={"h": BOX}), piece(("new", "b", 0, ("get", b))), ()), {})
+        self.assertIsNone(matched(told, piece(("new", "c", 0, ("then", ("set", c, ("new", "d", 1, ("get", c))),
+                                                               ("get", c)))), ()))
+        self.assertEqual(matched(rule(("new", "h", 0, ("get", H)), holes={"h": BOX}),
+                                 piece(("new", "b", 0, ("get", b))), ()), {})
 
     def test_words_that_are_given_twice(self):
         a, b = name("a"), name("b")
         outer = rule(("new", "a", 0, ("new", "b", 0, ("get", a))))
         inner = rule(("new", "a", 0, ("new", "b", 0, ("get", b))))
         again = rule(("new", "a", 0, ("new", "a", 0, ("get", a))))
-        for term, which in ((("new", "b", 0, ("new", "a", 0, ("get", b))), outer), (("new", "b", 0, ("new", "a", 0, ("get", a))), inner),
+        for term, which in ((("new", "b", 0, ("new", "a", 0, ("get", b))), outer),
+                            (("new", "b", 0, ("new", "a", 0, ("get", a))), inner),
                             (("new", "x", 0, ("new", "x", 0, ("get", X))), inner)):
             for told in (outer, inner, again):
-                self.assertEqual(matched(told, piece(term), ()) == {}, told is which or which is inner and told is again)
+                self.assertEqual(matched(told, piece(term), ()) == {}, told is which or which is inner
+                                 and told is again)
         made = rule(("set", ("made", H, "n", ("set", name("b"), name("n"))), number(1)), holes={"h": NUM, "b": BOX})
         term = ("set", ("made", X, "m", ("set", V, name("m"))), number(1))
         self.assertEqual(matched(made, piece(term), ()), {"b": V, "h": X})
-        for wrong in (("set", ("made", X, "m", ("set", V, X)), number(1)), ("set", ("made", X, "m", ("set", V, number(1))), number(1)),
+        for wrong in (("set", ("made", X, "m", ("set", V, X)), number(1)),
+                      ("set", ("made", X, "m", ("set", V, number(1))), number(1)),
                       ("set", ("made", X, "x", ("set", V, Y)), number(1))):
             self.assertIsNone(matched(made, piece(wrong), ()))
-        self.assertEqual(matched(made, piece(("set", ("made", X, "x", ("set", V, X)), number(1))), ()), {"b": V, "h": X})
+        self.assertEqual(matched(made, piece(("set", ("made", X, "x", ("set", V, X)), number(1))), ()),
+                         {"b": V, "h": X})
 
     def test_only_holes_that_stand_free(self):
         told = rule(("sum", H, ("new", "k", 0, number(1))), number(0), {"h": NUM, "k": BOX, "z": DO})
         self.assertEqual(matched(told, piece(("sum", X, ("new", "q", 0, number(1)))), ()), {"h": X})
-        found = matched(rule(("then", name("z"), ("sum", H, name("a"))), holes={"h": NUM, "z": DO, "a": NUM}), piece(("then", GO, ("sum", Y, X))), ())
+        found = matched(rule(("then", name("z"), ("sum", H, name("a"))), holes={"h": NUM, "z": DO, "a": NUM}),
+                        piece(("then", GO, ("sum", Y, X))), ())
         self.assertEqual(list(found.items()), [("a", X), ("h", Y), ("z", GO)])
 
     def test_by_chance(self):
@@ -196,7 +183,8 @@ class Matched(unittest.TestCase):
         def made(term, inner, own):
             sort = sort_in(inner, term)
             uses = free_uses(term)
-            if (rng.random() < 0.3 or any(use[1] not in own for use in uses[:1] if term[0] == "name")) and len(holes) < 4:
+            if (rng.random() < 0.3 or any(use[1] not in own for use in uses[:1]
+                                          if term[0] == "name")) and len(holes) < 4:
                 word = rng.choice("hijk")
                 if holes.setdefault(word, ((), sort)) == ((), sort):
                     return name(word)
@@ -207,7 +195,8 @@ class Matched(unittest.TestCase):
                 there, words = inner, own
                 if path == (3,) and term[0] in ("new", "made"):
                     fresh = rng.choice(["p", "q", own_of(term)])
-                    there, words = {**inner, own_of(term): BOX if term[0] == "new" else NUM}, {**own, own_of(term): fresh}
+                    there, words = {**inner, own_of(term): BOX
+                                    if term[0] == "new" else NUM}, {**own, own_of(term): fresh}
                     things[1 if term[0] == "new" else 2] = fresh
                 things[path[0]] = made(other, there, words)
             return tuple(things)
@@ -261,7 +250,8 @@ class Rewritten(unittest.TestCase):
             self.assertTrue(same(made, one))
             self.assertEqual(part_at(made, at)[0], "new")
             self.assertNotIn(part_at(made, at)[1], ("x", "y"))
-        made = rule(("set", name("b"), H), ("set", ("made", ("get", name("b")), "x", ("set", name("b"), X)), H), {"h": NUM, "b": BOX})
+        made = rule(("set", name("b"), H), ("set", ("made", ("get", name("b")), "x", ("set", name("b"), X)), H),
+                    {"h": NUM, "b": BOX})
         self.assertTrue(is_right(made))
         box = ("made", X, "z", ("if", ("same", X, name("z")), GO, ("set", V, name("z"))))
         one = piece(("set", box, Y))
@@ -275,8 +265,10 @@ class Rewritten(unittest.TestCase):
         i, d, b = name("i"), name("d"), name("b")
         pairs = [(("sum", H, i), ("less", H, i)), (("not", H), ("same", H, number(0))), (("sum", H, number(0)), H),
                  (("then", d, H), ("new", "x", 1, ("then", d, H))), (("if", H, d, SKIP), ("if", ("not", H), SKIP, d)),
-                 (("while", H, d), ("if", H, ("then", d, ("while", H, d)), SKIP)), (("set", b, H), ("then", SKIP, ("set", b, H))),
-                 (("get", b), ("get", ("made", ("get", b), "x", ("set", b, X)))), (("claim", H), ("if", H, SKIP, ("claim", number(0)))),
+                 (("while", H, d), ("if", H, ("then", d, ("while", H, d)), SKIP)),
+                 (("set", b, H), ("then", SKIP, ("set", b, H))),
+                 (("get", b), ("get", ("made", ("get", b), "x", ("set", b, X)))),
+                 (("claim", H), ("if", H, SKIP, ("claim", number(0)))),
                  (("new", "y", 0, ("then", ("set", Y, H), ("get", Y))), ("less", H, number(0)))]
         rules = [Rule(Piece(2, holes, left), Piece(2, holes, right)) for left, right in pairs]
         self.assertTrue(all(is_right(told) for told in rules))

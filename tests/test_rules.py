@@ -27,7 +27,8 @@ class Rules(unittest.TestCase):
         told = Rule(left=left, right=right)
         self.assertEqual((told.left, told.right), (left, right))
         self.assertEqual(told, rule(("sum", X, Y), ("less", X, Y)))
-        for other in (Rule(right, left), Rule(left, left), rule(("sum", Y, X), ("less", X, Y)), (left, right), None, left):
+        for other in (Rule(right, left), Rule(left, left), rule(("sum", Y, X), ("less", X, Y)), (left, right), None,
+                      left):
             self.assertFalse(told == other)
 
     def test_right_ones(self):

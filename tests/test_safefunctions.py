@@ -10,10 +10,9 @@ from playsalike.putclaims import always_breaks, safe_with
 from playsalike.safefunctions import safe_functions
 from playsalike.smallpieces import all_terms
 from samples import BOX, DO, NUM, ODD_VALUES, SKIP, every_place, name, number, some
-from test_boxes import changed
-from test_rewriting import sort_in
+from termparts import changed, sort_in
 
-X, V, GO = name("x"), name("v"), name("go")
+X = name("x")
 UNARY = (("num",), "num")
 
 
@@ -46,7 +45,8 @@ class SafeFunctions(unittest.TestCase):
         self.assertEqual([function.term for function in others], [number(0)])
         f = Piece(2, {"f": UNARY}, ("claim", name("f", number(1))))
         safe, others = safe_functions(piece=f, word="f", nodes=2)
-        self.assertEqual(safe[:3], [Function(2, {}, (("a", "num"),), term) for term in (name("a"), ("never", "num"), number(1))])
+        self.assertEqual(safe[:3], [Function(2, {}, (("a", "num"),), term) for term in (name("a"), ("never", "num"),
+                                                                                        number(1))])
         self.assertIn(Function(2, {}, (("a", "num"),), ("not", name("a"))), others)
         self.assertIn(Function(2, {}, (("a", "num"),), ("new", "b", 0, name("a"))), safe)
         self.assertEqual(safe_functions(Piece(2, {"x": NUM}, SKIP), "x", 1)[1], [])
@@ -126,7 +126,8 @@ class ExampleByHand(unittest.TestCase):
         names = {"x": NUM}
         one = Piece(2, names, ("claim", ("same", X, X)))
         self.assertFalse(is_safe(one))
-        self.assertEqual(least_break(one), (("ask",), ("call", "x"), ("num", "x", 0), ("call", "x"), ("num", "x", 1), ("break",)))
+        self.assertEqual(least_break(one), (("ask",), ("call", "x"), ("num", "x", 0), ("call", "x"), ("num", "x", 1),
+                                            ("break",)))
         self.assertTrue(safe_with(one, "x", Function(2, {}, (), number(1))))
         b = name("b")
         kept = Piece(2, names, ("new", "b", 0, ("then", ("set", b, X), ("claim", ("same", ("get", b), ("get", b))))))

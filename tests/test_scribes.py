@@ -68,7 +68,8 @@ class Scribes(unittest.TestCase):
         self.assertEqual((torn.house.word, torn.late), ("lost", (255,)))
 
     def test_strange_and_torn(self):
-        for thing, good in (((1,), 0), ((0, 0), 0), ((0, 1, 3), 2), ((0, 1, 0, 4), 2), ((0, 1, 0, 5, 2, 3), 4), (LOG + (0,), 6),
+        for thing, good in (((1,), 0), ((0, 0), 0), ((0, 1, 3), 2), ((0, 1, 0, 4), 2), ((0, 1, 0, 5, 2, 3), 4),
+                            (LOG + (0,), 6),
                             (LOG + (0, 0), 6), ((255,), 0), ((0, 255), 0), ((0, 1, 0, 5, 200), 4)):
             with self.assertRaises(BadLog) as caught:
                 Scribe(ONE, thing)

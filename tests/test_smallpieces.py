@@ -12,7 +12,8 @@ from samples import BOX, DO, NUM, ODD_VALUES, SKIP, count_nodes, name, number, s
 from smallterms import up_to
 
 X, V = name("x"), name("v")
-KINDS = [(2, {}), (3, {}), (4, {}), (2, {"x": NUM}), (2, {"v": BOX}), (2, {"go": DO, "x": NUM}), (3, {"a": NUM, "b": BOX}),
+KINDS = [(2, {}), (3, {}), (4, {}), (2, {"x": NUM}), (2, {"v": BOX}), (2, {"go": DO, "x": NUM}),
+         (3, {"a": NUM, "b": BOX}),
          (2, {"f": (("num", "do"), "num"), "v": BOX}), (2, {"a": (("box",), "do"), "c": (("num",), "num")}),
          (2, {"f": (("num", "box", "do"), "do"), "v": BOX, "x": NUM, "y": DO})]
 
@@ -66,7 +67,8 @@ class AllTerms(unittest.TestCase):
 
     def test_bounds(self):
         self.assertEqual(len(all_terms(2, {"x": NUM}, "do", 5)), 2774)
-        for size, names, sort, nodes in ((2, {"x": NUM}, "do", 6), (2, {}, "num", 5), (2, {}, "num", 6), (4, {word: NUM for word in "abcd"}, "num", 4)):
+        for size, names, sort, nodes in ((2, {"x": NUM}, "do", 6), (2, {}, "num", 5), (2, {}, "num", 6),
+                                         (4, {word: NUM for word in "abcd"}, "num", 4)):
             with self.assertRaises(TooMany) as caught:
                 all_terms(size, names, sort, nodes)
             self.assertEqual(caught.exception.most, 3000)

@@ -57,7 +57,8 @@ class SolePiece(unittest.TestCase):
 
     def test_all_short_plays(self):
         seen = 0
-        for names in ({}, {"x": NUM}, {"go": DO}, {"v": BOX}, {"f": (("num",), "do")}, {"f": (("do",), "num")}, {"f": (("box",), "do")},
+        for names in ({}, {"x": NUM}, {"go": DO}, {"v": BOX}, {"f": (("num",), "do")}, {"f": (("do",), "num")},
+                      {"f": (("box",), "do")},
                       {"x": NUM, "f": (("num", "box"), "do")}):
             for kind in ("num", "do"):
                 one = kind_of(2, names, kind)
@@ -98,8 +99,10 @@ class SolePiece(unittest.TestCase):
                 self.assertEqual(ended_around(sole, around_of(one, other), 10 ** 5)[0] == "do", play == other)
 
     def test_many_nested_questions(self):
-        for names, question, answer in (({"f": (("do",), "do")}, ("ask", "f", 0), ("did", "f", 0)), ({"f": WIDE}, ("ask", "f", 1), ("did", "f", 1)),
-                                        ({"f": WIDE}, ("get", "f", 2), ("value", "f", 2, 1)), ({"f": WIDE}, ("set", "f", 2, 0), ("kept", "f", 2)),
+        for names, question, answer in (({"f": (("do",), "do")}, ("ask", "f", 0), ("did", "f", 0)),
+                                        ({"f": WIDE}, ("ask", "f", 1), ("did", "f", 1)),
+                                        ({"f": WIDE}, ("get", "f", 2), ("value", "f", 2, 1)),
+                                        ({"f": WIDE}, ("set", "f", 2, 0), ("kept", "f", 2)),
                                         ({"f": WIDE}, ("ask", "f", 0), ("num", "f", 0, 1))):
             one = kind_of(2, names, "do")
             last = ("did", "f") if names["f"][1] == "do" else ("num", "f", 1)
@@ -109,12 +112,14 @@ class SolePiece(unittest.TestCase):
             for play in (whole, broken):
                 sole = self.check(one, play)
                 self.check_steps(sole, play)
-                self.assertEqual(Surrounded(sole, around_of(one, play), 10 ** 6).told()[0], "broken" if play is broken else "do")
+                self.assertEqual(Surrounded(sole, around_of(one, play), 10 ** 6).told()[0], "broken"
+                                 if play is broken else "do")
 
     def test_long_plays(self):
         rng = some(462)
         for _ in range(12):
-            one = kind_of(rng.choice((2, 3, 4)), {"f": WIDE, "g": (("do", "box"), "do"), "v": BOX, "x": NUM}, rng.choice(("num", "do")))
+            one = kind_of(rng.choice((2, 3, 4)), {"f": WIDE, "g": (("do", "box"), "do"), "v": BOX, "x": NUM},
+                          rng.choice(("num", "do")))
             play = random_play(rng, one, 200, rng.random() < 0.4)
             self.assertGreater(len(play), 190)
             sole = self.check(one, play)
@@ -140,8 +145,10 @@ class SolePiece(unittest.TestCase):
             with self.assertRaises(BadPiece) as caught:
                 sole_piece(thing, None)
             self.assertIsNone(caught.exception.part)
-        for row in ODD_VALUES + [[], [("ask",)], [("ask",), ("call", "x")], [("ask",), ("num", 2)], [("ask",), ("do",)], [("ask",), ["num", 0]],
-                                 [("ask",), BREAK, ("num", 0)], [("ask",), ("call", "x"), ("num", "x", 0), ("num", "x", 0)]]:
+        for row in ODD_VALUES + [[], [("ask",)], [("ask",), ("call", "x")], [("ask",), ("num", 2)], [("ask",), ("do",)],
+                                 [("ask",), ["num", 0]],
+                                 [("ask",), BREAK, ("num", 0)], [("ask",), ("call", "x"), ("num", "x", 0),
+                                                                 ("num", "x", 0)]]:
             with self.assertRaises(BadPlay):
                 sole_piece(one, row)
         go = Piece(2, {"go": DO}, name("go"))
