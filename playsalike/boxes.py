@@ -6,9 +6,7 @@ from playsalike.pieces import check_piece, plan_of_piece, with_term
 from playsalike.places import part_at
 from playsalike.plans import place_of
 from playsalike.plays import machine_of
-from playsalike.shapes import part_along, with_part_along
-
-SKIP = ("skip",)
+from playsalike.shapes import SKIP, part_along, with_part_along
 
 
 def begins(piece, at):

@@ -1,8 +1,7 @@
 """Counters made of boxes that keep digits 0 and 1, and choices by what they have counted, as terms."""
 
+from playsalike.shapes import SKIP
 from playsalike.words import fresh_words
-
-SKIP = ("skip",)
 
 
 def counter_words(barred, most):

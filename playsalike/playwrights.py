@@ -1,10 +1,11 @@
 """Programs around pieces made out of plays: each one goes along with just one play."""
 
 from playsalike.arounds import made_around
-from playsalike.counters import SKIP, box_named, counted_on
+from playsalike.counters import box_named, counted_on
 from playsalike.pieces import check_piece, made_function
 from playsalike.playing import ANSWERS, BREAK
 from playsalike.scripts import STOP, Script, check_play, then
+from playsalike.shapes import SKIP
 from playsalike.sorts import BOX
 from playsalike.words import fresh_words
 
@@ -104,7 +105,7 @@ def _exchanges(script, params, asks):
         kinds.setdefault((move[0], move[2]), []).append(beat)
     left = dict(asks)
     deeds = []
-    for kind, beats in kinds.items():
+    for beats in kinds.values():
         is_kind = script.number_at({beat: 1 if beat in beats else 0 for beat in left})
         deeds.append((is_kind, _exchange(script, params, [(beat, asks[beat]) for beat in beats])))
         left = {beat: move for beat, move in left.items() if beat not in beats}

@@ -1,8 +1,9 @@
 """Plays told by beats, and terms that choose by the beat that a counter of boxes keeps."""
 
-from playsalike.counters import SKIP, chosen, counter_words
+from playsalike.counters import chosen, counter_words
 from playsalike.errors import BadPlay, TooMany
 from playsalike.playing import is_play, waits_behind
+from playsalike.shapes import SKIP
 
 MOST_MOVES = 200
 STOP = ("never", "do")

@@ -2,6 +2,8 @@
 
 from playsalike.sorts import BOX, NUMBER
 
+SKIP = ("skip",)
+
 # What stands behind the word of each term but "name"; some is num or do, alike the sort ahead.
 FORMS = {
     "number": ("figure",),

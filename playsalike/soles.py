@@ -4,10 +4,11 @@ What the piece does is found move by move. Segments are what it does from a ques
 to its answer; uses are its own questions to names, and what is answered and asked then.
 """
 
-from playsalike.counters import SKIP, box_named, chosen, counted_to
+from playsalike.counters import box_named, chosen, counted_to
 from playsalike.pieces import check_piece, made_piece
 from playsalike.playing import ANSWERS, BREAK
 from playsalike.scripts import STOP, Script, check_play, then
+from playsalike.shapes import SKIP
 from playsalike.words import fresh_word
 
 FALSE = ("claim", ("number", 0))

@@ -491,7 +491,7 @@ class Next(unittest.TestCase):
                 for token in tokens:
                     if wrong_at(next_in_piece, text + token + " ") is None:
                         further.append(text + token + " ")
-            sample = further if length < 2 else some(length).sample(further, 250)
+            sample = further if length < 2 else some(length).sample(further, 150)
             for text in sample:
                 whole = self.completed(text)
                 self.assertTrue(whole.startswith(text))
@@ -503,7 +503,7 @@ class Next(unittest.TestCase):
                     continue
                 seen += 1
             begun = further
-        self.assertGreater(seen, 500)
+        self.assertGreater(seen, 300)
 
     def test_all_short_texts_are_read(self):
         # All expressions of a few tokens, put together otherwise: each beginning of them is one.

@@ -175,7 +175,7 @@ class Normal(unittest.TestCase):
         for size, holes in ((2, {"x": NUM, "y": NUM}), (2, {"d": DO, "x": NUM}), (2, {"b": BOX, "x": NUM}),
                             (3, {"x": NUM})):
             rules = small_rules(size, holes, 3)
-            for _ in range(25):
+            for _ in range(12):
                 one = random_piece(rng, 6, names={"x": NUM, "v": BOX, "go": DO}, size=size, nodes=10)
                 try:
                     made, steps = normal(one, rules)
