@@ -2,24 +2,23 @@
 
 from playsalike.termmaking import KEPT
 
-# How loosely the parts of an expression hold together: what stands where something closer is
-# wanted stands in brackets.
+# How closely an expression holds together: what stands where something closer is wanted stands in
+# brackets. Names, numbers and the like hold together as operands.
 WHOLE = 0
 PART = 1
-COMPARED = 2
 SUM = 3
 OPERAND = 4
 LEVELS = {
-    "new": WHOLE,
-    "then": WHOLE,
-    "if": PART,
-    "while": PART,
-    "claim": PART,
-    "set": PART,
-    "same": COMPARED,
-    "below": COMPARED,
-    "sum": SUM,
-    "less": SUM,
+    "new": 0,
+    "then": 0,
+    "if": 1,
+    "while": 1,
+    "claim": 1,
+    "set": 1,
+    "same": 2,
+    "below": 2,
+    "sum": 3,
+    "less": 3,
 }
 SIGNS_BETWEEN = {
     "same": "=",
