@@ -39,7 +39,7 @@ def written_otherwise(rng, one):
         if word == "then":
             return ("if", number(1), term, term)
         if word == "get":
-            return ("new", "zz", 0, term)
+            return ("new", "unused", 0, term)
         return term
 
     return made_piece(one.size, one.names, changed(one.term, at, change), one.kind)

@@ -367,7 +367,10 @@ class Rewritten(unittest.TestCase):
             told = Rule(Piece(2, holes, left), Piece(2, holes, right))
             one = random_piece(rng, 6, names=NAMES, size=2)
             for at in places(one):
-                made = rewritten(told, one, at)
+                try:
+                    made = rewritten(told, one, at)
+                except TooMany:
+                    continue
                 if made is not None:
                     self.assertEqual(Piece(2, NAMES, made.term), made)
 
