@@ -27,10 +27,9 @@ def _ending(script, kind):
     piece = box_named("it")
     if last == BREAK:
         return ("then", piece, STOP) if kind == "do" else ("if", piece, STOP, STOP)
-    beats = range(len(script.told))
     if kind == "do":
-        return then(piece, script.let_at({beat: script.told[beat] == last for beat in beats}))
-    answers = {beat: last[1] if script.told[beat] == last else None for beat in beats}
+        return then(piece, _told_at(script, last))
+    answers = {beat: last[1] if told == last else None for beat, told in enumerate(script.told)}
     return _if_same(piece, script.number_at(answers), SKIP)
 
 

@@ -55,14 +55,13 @@ def heads(scope, sort):
 
 def _heads_of(scope, sort, word):
     """The heads of this plain sort that have this word."""
-    numbers = range(scope.size)
     if word == "number":
-        return [Head((word, number), []) for number in numbers]
+        return [Head((word, number), []) for number in range(scope.size)]
     if word == "never":
         return [Head((word, sort), [])]
     if word == "new":
         body = (sort, scope.with_word(BOX))
-        return [Head((word, scope.word, number, None), [body]) for number in numbers]
+        return [Head((word, scope.word, number, None), [body]) for number in range(scope.size)]
     if word == "made":
         return [Head((word, None, scope.word, None), [("num", scope), ("do", scope.with_word(NUMBER))])]
     parts = [(sort if plain in ("some", "alike") else plain, scope) for plain in FORMS[word]]
